@@ -1,0 +1,1 @@
+"""Neverhappens: tells which faults of a program never happen."""

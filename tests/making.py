@@ -1,0 +1,261 @@
+"""Makes programs by chance, the same ones for the same seed."""
+
+import random
+
+from tests.samples import OPERATORS
+
+FLAG = ("flag",)
+
+
+class FreeMaker:
+    """Makes programs that only have the right form: their names and kinds may be wrong."""
+
+    def __init__(self, seed):
+        self.chance = random.Random(seed)
+
+    def name(self):
+        return self.chance.choice(["a", "b2", "main", "notx", "if2", "x", "ending", "num", "z9z"])
+
+    def number(self):
+        return self.chance.choice([0, 1, -1, 7, -12, 300, 10 ** 9, -10 ** 9, 10 ** 30])
+
+    def kind(self):
+        return self.chance.choice(
+            [FLAG, ("num", self.number(), self.number()), ("ref", self.name())]
+        )
+
+    def expression(self, depth):
+        if depth == 0 or self.chance.random() < 0.3:
+            return self.chance.choice([
+                ("num", self.number()), ("flag", self.chance.random() < 0.5), ("null",),
+                ("name", self.name()),
+            ])
+        if self.chance.random() < 0.2:
+            return ("not", self.expression(depth - 1))
+        operator = self.chance.choice(OPERATORS)
+        return (operator, self.expression(depth - 1), self.expression(depth - 1))
+
+    def body(self, depth):
+        return tuple(self.statement(depth) for _ in range(self.chance.randrange(4)))
+
+    def statement(self, depth):
+        words = ["set", "input", "new", "free", "load", "store", "get", "put", "call", "return",
+                 "break", "assert"]
+        word = self.chance.choice(words + ["if", "while"] * 4 if depth else words)
+        value = self.expression(3)
+        if word in ("set", "load", "get"):
+            middle = {"set": (), "load": (self.name(),), "get": (self.name(),)}[word]
+            last = self.name() if word == "load" else value
+            return (word, self.name(), *middle, last)
+        if word in ("input", "new", "free"):
+            return (word, self.name())
+        if word == "store":
+            return (word, self.name(), self.name(), value)
+        if word == "put":
+            return (word, self.name(), self.expression(2), value)
+        if word == "call":
+            count = self.chance.randrange(4)
+            arguments = tuple(self.expression(2) for _ in range(count))
+            return (word, self.chance.choice([None, self.name()]), self.name(), arguments)
+        if word == "return":
+            return (word, self.chance.choice([None, value]))
+        if word == "if":
+            return (word, value, self.body(depth - 1), self.body(depth - 1))
+        if word == "while":
+            return (word, value, self.body(depth - 1))
+        return ("break",) if word == "break" else ("assert", value)
+
+    def declarations(self):
+        return tuple((self.name(), self.kind()) for _ in range(self.chance.randrange(4)))
+
+    def function(self):
+        result = self.chance.choice([None, self.kind()])
+        return (self.name(), self.declarations(), result, self.declarations(), self.body(3))
+
+    def some(self, make):
+        return tuple(make() for _ in range(self.chance.randrange(3)))
+
+    def program(self):
+        return (
+            self.some(lambda: (self.name(), self.declarations())),
+            self.some(lambda: (self.name(), self.number(), self.number(), self.number())),
+            self.declarations(),
+            self.some(self.function),
+        )
+
+
+class RightMaker:
+    """Makes programs that check_program accepts."""
+
+    def __init__(self, seed):
+        self.chance = random.Random(seed)
+
+    def number_kind(self):
+        low = self.chance.randrange(-6, 6)
+        return ("num", low, low + self.chance.randrange(1, 12))
+
+    def kind(self):
+        return self.chance.choice(
+            [FLAG, self.number_kind(), self.number_kind(), ("ref", "r"), ("ref", "q")]
+        )
+
+    def program(self):
+        small = ("num", -1, self.chance.randrange(0, 6))
+        self.fields = {
+            "r": (("f", FLAG), ("n", small)),
+            "q": (("r", ("ref", "r")), ("f", small)),
+        }
+        self.arrays = (("row", self.chance.randrange(1, 5), -2, 2), ("col", 3, 0, 20))
+        self.shared = tuple(("g" + str(at), self.kind()) for at in range(4))
+        self.heads = [
+            (name, tuple((name + "p" + str(at), self.kind()) for at in range(count)),
+             self.chance.choice([None, self.kind()]))
+            for name, count in (("one", 1), ("two", 2))
+        ]
+        self.heads.append(("main", (), None))
+        self.chance.shuffle(self.heads)
+        functions = tuple(self.function(*head) for head in self.heads)
+        return (tuple(self.fields.items()), self.arrays, self.shared, functions)
+
+    def function(self, name, params, result):
+        own = tuple((name + "v" + str(at), self.kind()) for at in range(3))
+        own += ((name + "i", ("num", -2, 2)), (name + "j", ("num", 0, 20)))
+        self.kinds = dict((*self.shared, *params, *own))
+        self.result = result
+        return (name, params, result, own, self.body(4, False))
+
+    def names_of(self, test):
+        return [name for name, kind in self.kinds.items() if test(kind)]
+
+    def number(self, depth):
+        names = self.names_of(lambda kind: kind[0] == "num")
+        if depth == 0 or self.chance.random() < 0.5:
+            if names and self.chance.random() < 0.7:
+                return ("name", self.chance.choice(names))
+            return ("num", self.chance.randrange(-3, 5))
+        word = self.chance.choice("+-*")
+        return (word, self.number(depth - 1), self.number(depth - 1))
+
+    def reference(self, record):
+        names = self.names_of(lambda kind: kind == ("ref", record))
+        if not names or self.chance.random() < 0.1:
+            return ("null",)
+        return ("name", self.chance.choice(names))
+
+    def flag(self, depth):
+        names = self.names_of(lambda kind: kind == FLAG)
+        pick = self.chance.randrange(7)
+        if depth == 0 or pick == 0:
+            if names and self.chance.random() < 0.8:
+                return ("name", self.chance.choice(names))
+            return ("flag", self.chance.random() < 0.6)
+        if pick == 1:
+            return ("not", self.flag(depth - 1))
+        if pick == 2:
+            return (self.chance.choice(["and", "or"]), self.flag(depth - 1), self.flag(depth - 1))
+        if pick == 3:
+            record = self.chance.choice("rq")
+            return ("same", self.reference(record), self.reference(record))
+        word = self.chance.choice(["<", "<=", "==", "!="])
+        return (word, self.number(depth - 1), self.number(depth - 1))
+
+    def fitting(self, kind):
+        if kind[0] == "num":
+            if self.chance.random() < 0.6:
+                return ("num", self.chance.randrange(kind[1], kind[2] + 1))
+            return self.number(2)
+        return self.flag(2) if kind == FLAG else self.reference(kind[1])
+
+    def body(self, depth, in_while):
+        found = []
+        for _ in range(self.chance.randrange(5) if depth < 4 else 8):
+            statement = self.statement(depth, in_while)
+            if statement is not None:
+                found.append(statement)
+        return tuple(found)
+
+    def statement(self, depth, in_while):
+        """A statement, or None if there is none with the word that was drawn."""
+        words = ["set", "set", "input", "new", "new", "load", "store", "get", "put", "call"]
+        if self.chance.random() < 0.12:
+            words = ["free", "return", "assert"]
+        if depth and self.chance.random() < 0.35:
+            words = ["if", "if", "while"]
+        if in_while and self.chance.random() < 0.3:
+            words = ["break"]
+        make = getattr(self, "make_" + self.chance.choice(words))
+        return make(depth, in_while)
+
+    def variable(self, test):
+        names = self.names_of(test)
+        return self.chance.choice(names) if names else None
+
+    def make_set(self, depth, in_while):
+        name = self.variable(lambda kind: True)
+        return ("set", name, self.fitting(self.kinds[name]))
+
+    def make_input(self, depth, in_while):
+        name = self.variable(lambda kind: kind[0] != "ref")
+        return ("input", name)
+
+    def make_new(self, depth, in_while):
+        name = self.variable(lambda kind: kind[0] == "ref")
+        return name and ("new", name)
+
+    def make_free(self, depth, in_while):
+        name = self.variable(lambda kind: kind[0] == "ref")
+        return name and ("free", name)
+
+    def field(self):
+        name = self.variable(lambda kind: kind[0] == "ref")
+        if name is None:
+            return None
+        return (name, *self.chance.choice(self.fields[self.kinds[name][1]]))
+
+    def make_load(self, depth, in_while):
+        found = self.field()
+        if found is None:
+            return None
+        target = self.variable(lambda kind: kind == found[2])
+        return target and ("load", target, found[0], found[1])
+
+    def make_store(self, depth, in_while):
+        found = self.field()
+        return found and ("store", found[0], found[1], self.fitting(found[2]))
+
+    def index(self, length):
+        if self.chance.random() < 0.8:
+            return ("num", self.chance.randrange(length))
+        return self.number(1)
+
+    def make_get(self, depth, in_while):
+        name, length, low, high = self.chance.choice(self.arrays)
+        target = self.variable(lambda kind: kind == ("num", low, high))
+        return target and ("get", target, name, self.index(length))
+
+    def make_put(self, depth, in_while):
+        name, length, low, high = self.chance.choice(self.arrays)
+        return ("put", name, self.index(length), self.fitting(("num", low, high)))
+
+    def make_call(self, depth, in_while):
+        name, params, result = self.chance.choice(self.heads)
+        target = None
+        if result is not None and self.chance.random() < 0.7:
+            target = self.variable(lambda kind: kind == result)
+        return ("call", target, name, tuple(self.fitting(kind) for _, kind in params))
+
+    def make_return(self, depth, in_while):
+        return ("return", None if self.result is None else self.fitting(self.result))
+
+    def make_if(self, depth, in_while):
+        first = self.body(depth - 1, in_while)
+        return ("if", self.flag(3), first, self.body(depth - 1, in_while))
+
+    def make_while(self, depth, in_while):
+        return ("while", self.flag(3), self.body(depth - 1, True))
+
+    def make_break(self, depth, in_while):
+        return ("break",)
+
+    def make_assert(self, depth, in_while):
+        return ("assert", self.flag(2))
