@@ -1,12 +1,27 @@
 """What the names mean that a function can use."""
 
 
+def find_declared(section, name):
+    """The member of a section of a program that has this name."""
+    for declared in section:
+        if declared[0] == name:
+            return declared
+    return None
+
+
+def fields_named(program, name):
+    """The fields of the record kind with this name."""
+    return find_declared(program[0], name)[1]
+
+
+def array_named(program, name):
+    """The array of the program with this name."""
+    return find_declared(program[1], name)
+
+
 def function_named(program, name):
     """The function of the program with this name."""
-    for function in program[3]:
-        if function[0] == name:
-            return function
-    return None
+    return find_declared(program[3], name)
 
 
 def visible_kinds(program, function):

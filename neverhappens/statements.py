@@ -27,7 +27,11 @@ def parts_of(statement):
 
 def bodies_of(statement):
     """The list of the bodies of a statement, in order."""
-    return [part for role, part in parts_of(statement) if role == "body"]
+    roles = PARTS[statement[0]]
+    # Most statements have none, and all of them are asked very often.
+    if "body" not in roles:
+        return []
+    return [part for role, part in zip(roles, statement[1:]) if role == "body"]
 
 
 def list_statements(body, in_while=False):
@@ -42,4 +46,8 @@ def list_statements(body, in_while=False):
 
 def count_statements(body):
     """The number of statements in a body, with those of the bodies in it."""
-    return len(list_statements(body))
+    count = len(body)
+    for statement in body:
+        for inner in bodies_of(statement):
+            count += count_statements(inner)
+    return count

@@ -5,6 +5,7 @@ import random
 from tests.samples import OPERATORS
 
 FLAG = ("flag",)
+LARGE = ("num", -10 ** 6, 10 ** 6)
 
 
 class FreeMaker:
@@ -118,11 +119,14 @@ class RightMaker:
         return (tuple(self.fields.items()), self.arrays, self.shared, functions)
 
     def function(self, name, params, result):
-        own = tuple((name + "v" + str(at), self.kind()) for at in range(3))
-        own += ((name + "i", ("num", -2, 2)), (name + "j", ("num", 0, 20)))
+        own = self.variables(name)
         self.kinds = dict((*self.shared, *params, *own))
         self.result = result
         return (name, params, result, own, self.body(4, False))
+
+    def variables(self, name):
+        own = tuple((name + "v" + str(at), self.kind()) for at in range(3))
+        return own + ((name + "i", ("num", -2, 2)), (name + "j", ("num", 0, 20)))
 
     def names_of(self, test):
         return [name for name, kind in self.kinds.items() if test(kind)]
@@ -259,3 +263,103 @@ class RightMaker:
 
     def make_assert(self, depth, in_while):
         return ("assert", self.flag(2))
+
+
+class PlainMaker(RightMaker):
+    """Makes plain programs that check_program accepts: no arrays and no large kinds."""
+
+    def number_kind(self):
+        low = self.chance.randrange(-3, 3)
+        return ("num", low, low + self.chance.randrange(1, 5))
+
+    def program(self):
+        records, _, shared, functions = RightMaker.program(self)
+        return (records, (), shared, functions)
+
+    def variables(self, name):
+        kinds = [FLAG, self.number_kind(), self.kind(), self.kind()]
+        return tuple((name + "v" + str(at), kind) for at, kind in enumerate(kinds))
+
+    def make_get(self, depth, in_while):
+        return self.make_input(depth, in_while)
+
+    def make_put(self, depth, in_while):
+        return self.make_input(depth, in_while)
+
+
+class CarefulMaker(RightMaker):
+    """Makes right programs whose runs go far.
+
+    References are seldom null where they are followed, functions seldom call themselves, and there
+    is a variable for the result of each function.
+    """
+
+    def variables(self, name):
+        results = [result for _, _, result in self.heads if result is not None]
+        own = tuple((name + "r" + str(at), result) for at, result in enumerate(results))
+        return RightMaker.variables(self, name) + own
+
+    def body(self, depth, in_while):
+        found = []
+        for statement in RightMaker.body(self, depth, in_while):
+            at = {"load": 2, "store": 1, "free": 1}.get(statement[0])
+            if at is not None and self.chance.random() < 0.9:
+                holder = statement[at]
+                found.append(("if", ("same", ("name", holder), ("null",)), (("new", holder),), ()))
+            found.append(statement)
+        return tuple(found)
+
+    def function(self, name, params, result):
+        self.caller = name
+        *head, body = RightMaker.function(self, name, params, result)
+        if result is not None and self.chance.random() < 0.8:
+            body += (self.make_return(0, False),)
+        return (*head, body)
+
+    def make_call(self, depth, in_while):
+        names = ["main", "one", "two"]
+        further = [head for head in self.heads if names.index(head[0]) > names.index(self.caller)]
+        if not further or self.chance.random() < 0.1:
+            return RightMaker.make_call(self, depth, in_while)
+        name, params, result = self.chance.choice(further)
+        target = None
+        if result is not None and self.chance.random() < 0.9:
+            target = self.variable(lambda kind: kind == result)
+        return ("call", target, name, tuple(self.fitting(kind) for _, kind in params))
+
+
+class NumberMaker(CarefulMaker):
+    """Makes right programs that calculate with large numbers and return them."""
+
+    def kind(self):
+        return self.chance.choice([FLAG, ("num", 0, 2), LARGE, LARGE, LARGE])
+
+    def program(self):
+        self.fields, self.arrays = {}, ()
+        self.shared = tuple(("g" + str(at), self.kind()) for at in range(self.chance.randrange(5)))
+        self.heads = [
+            (name, tuple((name + "p" + str(at), self.kind()) for at in range(count)),
+             self.chance.choice([None, self.kind(), LARGE]))
+            for name, count in (("one", self.chance.randrange(4)), ("two", self.chance.randrange(4)))
+        ]
+        self.heads.append(("main", (), None))
+        return ((), (), self.shared, tuple(self.function(*head) for head in self.heads))
+
+    def body(self, depth, in_while):
+        count = 5 if depth == 4 else self.chance.randrange(3)
+        return tuple(self.statement(depth, in_while) for _ in range(count))
+
+    def statement(self, depth, in_while):
+        words = ["set", "set", "set", "input", "call", "call", "return", *["if"] * min(depth, 3)]
+        word = self.chance.choice(words)
+        if word == "return" and self.caller == "main":
+            word = "set"
+        return getattr(self, "make_" + word)(depth - 1, in_while)
+
+    def variables(self, name):
+        return (*CarefulMaker.variables(self, name)[:2], (name + "w", LARGE), (name + "f", FLAG))
+
+    def fitting(self, kind):
+        if kind == LARGE:
+            return self.number(2)
+        return CarefulMaker.fitting(self, kind)

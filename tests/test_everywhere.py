@@ -2,16 +2,27 @@
 
 import unittest
 
+from neverhappens.boxes import add_columns, free_column, pick_columns, shift_column, tie_boxes
+from neverhappens.calls import back, enter
+from neverhappens.cuts import assign, assume, at_least, at_most, equal_to
+from neverhappens.describing import rows_of_run
+from neverhappens.forms import form_of, range_of_form
 from neverhappens.graphs import heads, nodes
+from neverhappens.keys import is_key, number_key
 from neverhappens.kinds import is_discrete, is_large, is_small, kind_values, start_value
+from neverhappens.landmarks import is_head, landmarks, round_box
 from neverhappens.layouts import Layout
 from neverhappens.names import check_program
 from neverhappens.plain import Machine, run
 from neverhappens.printing import expression_text, function_text, kind_text, program_text
 from neverhappens.reading import read_expression, read_function, read_program
+from neverhappens.rules import Rules
+from neverhappens.steps import arrive, step
 from neverhappens.values import evaluate
 from neverhappens.walking import Walker, walk
-from tests.making import RightMaker
+from neverhappens.zones import bound, close, greatest_point, is_inside, join_boxes, least_point
+from neverhappens.zones import meet_boxes, range_box, range_of
+from tests.making import CarefulMaker, NumberMaker, RightMaker
 from tests.samples import A, DOOR, DOOR_TEXT, EXPRESSIONS
 
 # Beyond each of the limits: names, kinds, arrays, functions, parameters, statements, nesting.
@@ -47,6 +58,17 @@ def is_plain_value(value):
     return value is None or type(value) in (str, int, bool)
 
 
+def rows_by_rules(rules, most):
+    """The first rows to which the rules lead from the start, without any joins."""
+    rows = [rules.start()]
+    for row in rows:
+        found = list(rules.moves(row))
+        for other in list(rows):
+            found += [*rules.backs(row, other), *rules.backs(other, row)]
+        rows.extend(led for led in found if led not in rows and len(rows) < most)
+    return rows
+
+
 class TestArguments(unittest.TestCase):
     def test_lists_and_dicts_are_not_changed(self):
         inputs = [5, 6, 7]
@@ -62,6 +84,35 @@ class TestArguments(unittest.TestCase):
             evaluate(expression, values)
         self.assertEqual(values, {"a": 3, "b": 4, "c": True})
         self.assertIs(values["c"], True)
+
+    def test_known_values_are_not_changed(self):
+        known = {"k": 3, "f": True}
+        box = range_box(((0, 9),))
+        test = read_expression("((f and (x < k)) or (not (x == (k * x))))")
+        for want in (True, False):
+            assume(test, want, known, ("x",), box)
+        form_of(read_expression("(k - (x * k))"), known, ("x",), box)
+        self.assertEqual(repr(known), repr({"k": 3, "f": True}))
+
+    def test_layouts_and_rules_are_not_changed(self):
+        for seed in range(20):
+            program = CarefulMaker(seed).program()
+            rules = Rules(program)
+            before = {name: dict(vars(layout)) for name, layout in rules.layouts.items()}
+            kinds = {name: dict(layout.kinds) for name, layout in rules.layouts.items()}
+            for row in rows_by_rules(rules, 30):
+                rules.faults(row)
+            self.assertEqual(before, {name: vars(layout) for name, layout in rules.layouts.items()})
+            self.assertEqual(kinds, {name: layout.kinds for name, layout in rules.layouts.items()})
+
+    def test_rows_that_are_changed_afterwards(self):
+        inputs = [5, 6, 7]
+        program = CarefulMaker(3).program()
+        rows = rows_of_run(program, inputs, 20)
+        before = list(rows)
+        rows.clear()
+        self.assertEqual(inputs, [5, 6, 7])
+        self.assertEqual(rows_of_run(program, inputs, 20), before)
 
     def test_values_that_are_changed_afterwards(self):
         values = {"a": 3}
@@ -93,6 +144,58 @@ class TestPlainValues(unittest.TestCase):
         for value in found:
             self.assertTrue(is_plain_value(value), value)
 
+    def test_results_for_boxes(self):
+        box = range_box(((0, 9), (-3, 3)))
+        for found in (
+            box, close(box), bound(box, 1, 2, 4), join_boxes(box, bound(box, 1, 0, 4)), meet_boxes(box, box),
+            least_point(box), greatest_point(box), range_of(box, 1), is_inside(box, box),
+            add_columns(box, ((0, 3),)), pick_columns(box, (2, 1, 1)), free_column(box, 1, 0, 3),
+            shift_column(box, 2, 0, 3), tie_boxes(box, box, (1, 2)), form_of(A, {}, ("a", "b"), box),
+            form_of(("*", A, A), {}, ("a", "b"), box), range_of_form(((1, -1), 0, 3), box),
+            at_most(box, ((1, -1), 0, 3), 2), at_least(box, ((2, 0), 0, 3), 2), equal_to(box, ((2, 0), 0, 3), 2),
+            assign(box, 1, ((1, 0), 2, 3), 0, 9), assign(box, 1, ((1, 1), 2, 3), 0, 9),
+            assume(("<", A, ("num", 3)), True, {}, ("a", "b"), box),
+            round_box(box, ((0, 9), (-3, 3)), (-1, 0, 1)), round_box(box, ((0, 9), (-3, 3)), ()),
+        ):
+            self.assertTrue(is_plain_value(found), found)
+            self.assertIsNotNone(found)
+
+    def test_results_of_rules(self):
+        for seed in range(40):
+            program = (CarefulMaker if seed % 2 else NumberMaker)(seed).program()
+            self.assertTrue(all(map(is_plain_value, rows_of_run(program, [3, 4], 30))))
+            rules = Rules(program)
+            for row in rows_by_rules(rules, 25):
+                self.assertTrue(is_plain_value(row), row)
+                self.check_row(rules, row)
+
+    def check_row(self, rules, row):
+        """The row is one, and what the functions tell of it are plain values of the told forms."""
+        function, entry, place, key, box = row
+        layout = rules.layouts[function]
+        fixed = len(entry[1])
+        last = place == layout.exit
+        kinds = [layout.kinds.get(name, layout.result)
+                 for name in (layout.exit_discrete if last else layout.discrete)]
+        self.assertIs(is_key(rules.program, tuple(kinds), key, fixed), True)
+        ranges = layout.exit_ranges if last else layout.ranges
+        self.assertEqual(close(box), box)
+        self.assertTrue(is_inside(box, range_box(ranges)))
+        marks = landmarks(layout)
+        self.assertTrue(is_inside(box, round_box(box, ranges, marks)))
+        found = [rules.faults(row), rules.moves(row), marks, is_head(layout, place)]
+        if not last:
+            found.append(arrive(layout, fixed, layout.exit, key, box))
+            found.append(number_key(rules.program, tuple(kinds), *key, tuple(range(fixed))))
+            called = layout.graph[place][0]
+            if called[0] == "call":
+                found.append(enter(layout, rules.layouts[called[2]], place, key, box))
+            else:
+                found.append(step(layout, fixed, place, key, box))
+        self.assertTrue(is_plain_value(tuple(found)))
+        for told in (found[0], found[1]):
+            self.assertIs(type(told), tuple)
+
     def test_tuples_in_each_state(self):
         for made in (Machine, Walker):
             state = made(DOOR, []).state()
@@ -118,6 +221,36 @@ class TestLimits(unittest.TestCase):
             self.assertIs(is_small(kind), kind[1] > 0)
             self.assertIs(is_discrete(kind), kind[1] > 0)
         self.assertEqual(kind_values(("num", 10 ** 30, 10 ** 30 + 1)), (10 ** 30, 10 ** 30 + 1))
+
+    def test_rules_of_a_great_program(self):
+        program = great_program()
+        rules = Rules(program)
+        row = rules.start()
+        self.assertEqual(row[2:4], (0, ((), ())))
+        self.assertEqual(row[4], range_box(((0, 0),) * 40))
+        call = ("main", row[1], 117, row[3], range_box(rules.layouts["main"].ranges))
+        (begun,) = rules.moves(call)
+        self.assertEqual((begun[0], begun[2], len(begun[4])), ("f7", 0, 48))
+        (ended,) = rules.backs(call, begun)
+        self.assertEqual((ended[2], len(ended[4])), (118, 41))
+        self.assertEqual(len(rows_of_run(program, [0] * 5000, 10 ** 6)), 133)
+        self.assertEqual(len(landmarks(rules.layouts["main"])), 203 + 6 + 6)
+
+    def test_names_and_numbers_beyond_the_limits(self):
+        far = 10 ** 700
+        box = range_box(((-far, far),) * 30)
+        self.assertEqual(close(box), box)
+        self.assertEqual(bound(box, 30, 29, -2 * far), meet_boxes(box, bound(box, 30, 29, -2 * far)))
+        names = tuple("x" + str(at) for at in range(30))
+        expression = ("num", far)
+        for name in names:
+            expression = ("+", expression, ("name", name))
+        self.assertEqual(form_of(expression, {}, names, box), ((1,) * 30, far, far))
+        self.assertEqual(range_of_form(((1,) * 30, far, far), box), (-29 * far, 31 * far))
+        deep = ("<", ("name", "x0"), ("num", 0))
+        for _ in range(100):
+            deep = ("not", deep)
+        self.assertEqual(assume(deep, True, {}, names, box), bound(box, 1, 0, -1))
 
     def test_expressions_that_are_deep(self):
         expression = A

@@ -20,7 +20,7 @@ TREES = {name: ast.parse(text) for name, text in TEXTS.items()}
 
 STATEMENTS = (
     ast.FunctionDef, ast.ClassDef, ast.Return, ast.Assign, ast.AugAssign, ast.For, ast.While,
-    ast.If, ast.Raise, ast.ImportFrom, ast.Expr, ast.Pass, ast.Break, ast.Continue,
+    ast.If, ast.Raise, ast.ImportFrom, ast.Expr, ast.Pass, ast.Break, ast.Continue, ast.Delete,
 )
 BUILTINS = (
     "len range enumerate zip min max sum abs sorted reversed int str bool list tuple dict"
@@ -65,6 +65,33 @@ INTERFACE = {
     "plain": {"Machine": ("visit", "outcome", "state"), "run": "program inputs visits"},
     "graphs": {"nodes": "function", "heads": "function"},
     "walking": {"Walker": ("visit", "outcome", "state"), "walk": "program inputs visits"},
+    "zones": {
+        "close": "matrix", "range_box": "ranges", "bound": "box i j most", "join_boxes": "a b",
+        "meet_boxes": "a b", "is_inside": "a b", "has_point": "box point", "range_of": "box i",
+        "least_point": "box", "greatest_point": "box",
+    },
+    "boxes": {
+        "add_columns": "box ranges", "pick_columns": "box columns", "free_column": "box i lo hi",
+        "shift_column": "box i low high", "tie_boxes": "box other columns",
+    },
+    "forms": {"form_of": "expression known names box", "range_of_form": "form box"},
+    "cuts": {
+        "at_most": "box form most", "at_least": "box form least", "equal_to": "box form value",
+        "assign": "box i form lo hi", "assume": "expression want known names box",
+    },
+    "keys": {
+        "number_key": "program kinds values records fixed", "is_key": "program kinds key fixed",
+    },
+    "describing": {"rows_of_run": "program inputs visits"},
+    "steps": {"arrive": "layout fixed place key box", "step": "layout fixed place key box"},
+    "calls": {
+        "enter": "layout callee place key box",
+        "back": "layout fixed place key entered callee exit_key exit_box",
+    },
+    "rules": {"Rules": ("start", "faults", "moves", "backs")},
+    "landmarks": {
+        "landmarks": "layout", "round_box": "box ranges marks", "is_head": "layout place",
+    },
 }
 
 
@@ -349,6 +376,7 @@ class TestInterface(unittest.TestCase):
             ("layouts", "Layout", ["program", "name"]),
             ("plain", "Machine", ["program", "inputs"]),
             ("walking", "Walker", ["program", "inputs"]),
+            ("rules", "Rules", ["program"]),
         ):
             made = getattr(importlib.import_module("neverhappens." + name), found)
             self.assertEqual(list(inspect.signature(made).parameters), told)
