@@ -37,6 +37,11 @@ class Rules:
         statement = layout.graph[row[2]][0]
         return self.layouts[statement[2]] if statement[0] == "call" else None
 
+    def members(self, row):
+        """The pair of the possible faults of a row at a call and of the members of its cases."""
+        function, _, place, key, box = row
+        return enter(self.layouts[function], self.called(row), place, key, box)
+
     def visit(self, row):
         """The pair of the possible faults of a row and of the rows that one visit leads to."""
         function, entry, place, key, box = row
@@ -47,7 +52,7 @@ class Rules:
         if callee is None:
             faults, triples = step(layout, len(entry[1]), place, key, box)
             return faults, tuple([(function, entry, *triple) for triple in triples])
-        faults, members = enter(layout, callee, place, key, box)
+        faults, members = self.members(row)
         return faults, tuple([(callee.name, *member[:4]) for member in members])
 
     def faults(self, row):
@@ -58,18 +63,22 @@ class Rules:
         """The tuple of the rows that one visit leads to, without the ends of called functions."""
         return self.visit(row)[1]
 
+    def behind(self, row, member, exit_row):
+        """The row behind a call after the end of the frame of this member, None without a point."""
+        function, entry, place, key, _ = row
+        layout, callee = self.layouts[function], self.called(row)
+        _, _, _, exit_key, exit_box = exit_row
+        triple = back(layout, len(entry[1]), place, key, member, callee, exit_key, exit_box)
+        return None if triple is None else (function, entry, *triple)
+
     def backs(self, row, exit_row):
         """The tuple of the row behind a call that has ended with the exit row, if there is one."""
         callee = self.called(row)
-        name, entered, at, exit_key, exit_box = exit_row
-        if callee is None or name != callee.name or at != callee.exit:
+        if callee is None or exit_row[0] != callee.name or exit_row[2] != callee.exit:
             return ()
-        function, entry, place, key, box = row
-        layout = self.layouts[function]
-        for member in enter(layout, callee, place, key, box)[1]:
+        for member in self.members(row)[1]:
             # Members differ in what small parameters are given, so no two have the same entry.
-            if member[0] == entered:
-                fixed = len(entry[1])
-                triple = back(layout, fixed, place, key, member, callee, exit_key, exit_box)
-                return () if triple is None else ((function, entry, *triple),)
+            if member[0] == exit_row[1]:
+                found = self.behind(row, member, exit_row)
+                return () if found is None else (found,)
         return ()

@@ -25,10 +25,10 @@ def is_name(text):
     return consists_of(text, LETTERS + DIGITS)
 
 
-def number_of(text):
-    """The number with this text."""
+def number_of(text, most=MOST_DIGITS):
+    """The number with this text, if it has not more than so many digits."""
     digits = text.removeprefix("-")
-    if digits == "" or len(digits) > MOST_DIGITS or not consists_of(digits, DIGITS):
+    if digits == "" or len(digits) > most or not consists_of(digits, DIGITS):
         return None
     if digits[0] == "0" and text != "0":
         return None

@@ -3,7 +3,7 @@
 from neverhappens.describing import rows_of_run
 from neverhappens.graphs import nodes
 from neverhappens.plain import run
-from neverhappens.zones import has_point, range_box
+from neverhappens.zones import has_point, is_inside, range_box
 from tests.slow import point_box
 
 # Statements behind which it is not told by the state alone what comes next.
@@ -68,6 +68,43 @@ class Follower:
             found, over = self.ended(case, behind)
             return begun + found, over
         return self.ended(case, list(moves))
+
+
+class Recorder(Follower):
+    """Keeps the rows at exits to which visits lead, also those of frames that are below."""
+
+    def __init__(self, rules):
+        Follower.__init__(self, rules)
+        self.ends = []
+
+    def ended(self, case, exit_rows):
+        self.ends += [row for row in exit_rows if row[2] == self.rules.layouts[row[0]].exit]
+        return Follower.ended(self, case, exit_rows)
+
+    def visit(self, case):
+        if self.word() == "call":
+            self.ends += [row for row in self.rules.moves(self.rows[-1])
+                          if row[2] == self.rules.layouts[row[0]].exit]
+        return Follower.visit(self, case)
+
+
+def met_rows(case, program, rules, inputs, visits):
+    """The rows, with single points, of the states and of the ends of frames of a run."""
+    told = [pointed(row) for row in rows_of_run(program, inputs, visits)]
+    recorder = Recorder(rules)
+    if not told:
+        return [recorder.rows[0]]
+    for at, row in enumerate(told):
+        recorder.rows[-1] = row
+        found, _ = recorder.visit(case)
+        if at + 1 < len(told):
+            below = next(below for below, other in found if is_inside_row(told[at + 1], other))
+            recorder.rows = [*recorder.rows[:below], told[at + 1]]
+    return told + recorder.ends
+
+
+def is_inside_row(row, other):
+    return row[:4] == other[:4] and is_inside(row[4], other[4])
 
 
 def follow_run(case, program, rules, inputs, visits, mode):

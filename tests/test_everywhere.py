@@ -2,8 +2,12 @@
 
 import unittest
 
+from neverhappens.analysis import analyse
 from neverhappens.boxes import add_columns, free_column, pick_columns, shift_column, tie_boxes
 from neverhappens.calls import back, enter
+from neverhappens.certificates import certificate_text, read_certificate
+from neverhappens.changes import replace_function, revise
+from neverhappens.checker import accepts
 from neverhappens.cuts import assign, assume, at_least, at_most, equal_to
 from neverhappens.describing import rows_of_run
 from neverhappens.forms import form_of, range_of_form
@@ -18,6 +22,7 @@ from neverhappens.printing import expression_text, function_text, kind_text, pro
 from neverhappens.reading import read_expression, read_function, read_program
 from neverhappens.rules import Rules
 from neverhappens.steps import arrive, step
+from neverhappens.tables import first_table, lower, sort_rows
 from neverhappens.values import evaluate
 from neverhappens.walking import Walker, walk
 from neverhappens.zones import bound, close, greatest_point, is_inside, join_boxes, least_point
@@ -104,6 +109,16 @@ class TestArguments(unittest.TestCase):
                 rules.faults(row)
             self.assertEqual(before, {name: vars(layout) for name, layout in rules.layouts.items()})
             self.assertEqual(kinds, {name: layout.kinds for name, layout in rules.layouts.items()})
+
+    def test_rules_are_not_changed_by_tables(self):
+        for seed in range(20):
+            rules = Rules(CarefulMaker(seed).program())
+            before = {name: repr(vars(layout)) for name, layout in rules.layouts.items()}
+            table = first_table(rules, 60, (3, 1))
+            if table is not None:
+                lower(rules, table)
+            self.assertEqual(list(vars(rules)), ["program", "layouts"])
+            self.assertEqual(before, {name: repr(vars(layout)) for name, layout in rules.layouts.items()})
 
     def test_rows_that_are_changed_afterwards(self):
         inputs = [5, 6, 7]
@@ -196,6 +211,26 @@ class TestPlainValues(unittest.TestCase):
         for told in (found[0], found[1]):
             self.assertIs(type(told), tuple)
 
+    def test_results_of_tables(self):
+        for seed in range(30):
+            program = (CarefulMaker if seed % 2 else NumberMaker)(seed).program()
+            analysis = analyse(program, limit=100)
+            revised = revise(analysis, program[3][0])
+            rules = Rules(program)
+            text = certificate_text(program, analysis.rows)
+            self.assertIs(type(text), str)
+            for found in (
+                sort_rows(program, analysis.rows), lower(rules, analysis.rows), analysis.first, analysis.rows,
+                analysis.kept, revised.kept, revised.rows, revised.first, read_certificate(program, text),
+            ):
+                self.assertIs(type(found), tuple)
+                self.assertTrue(is_plain_value(found))
+            for found in (
+                first_table(rules, 100, ()), replace_function(program, program[3][-1]), analysis.cut, revised.cut,
+                accepts(program, analysis.rows), analysis.limit, analysis.rounds, analysis.program, revised.program,
+            ):
+                self.assertTrue(is_plain_value(found))
+
     def test_tuples_in_each_state(self):
         for made in (Machine, Walker):
             state = made(DOOR, []).state()
@@ -236,6 +271,16 @@ class TestLimits(unittest.TestCase):
         self.assertEqual(len(rows_of_run(program, [0] * 5000, 10 ** 6)), 133)
         self.assertEqual(len(landmarks(rules.layouts["main"])), 203 + 6 + 6)
 
+    def test_tables_beyond_the_limits(self):
+        body = "".join(f"  k = {at}\n" for at in range(3)) * 250
+        program = read_program(f"def main()\n  var k: 0..7\n  var f: flag\n  f = input\n{body}end\n")
+        analysis = analyse(program, limit=5000, rounds=6, picks=tuple(range(200)))
+        self.assertEqual((len(analysis), analysis.cut), (1502, False))
+        self.assertIs(accepts(program, analysis.rows), True)
+        text = certificate_text(program, analysis.rows)
+        self.assertGreater(len(text), 20000)
+        self.assertEqual(read_certificate(program, text), analysis.rows)
+
     def test_names_and_numbers_beyond_the_limits(self):
         far = 10 ** 700
         box = range_box(((-far, far),) * 30)
@@ -270,7 +315,9 @@ class TestTexts(unittest.TestCase):
     def test_characters(self):
         allowed = set(map(chr, range(32, 127))) - {chr(37)} | {"\n"}
         for seed in range(40):
-            self.assertLessEqual(set(program_text(RightMaker(seed).program())), allowed)
+            program = RightMaker(seed).program()
+            self.assertLessEqual(set(program_text(program)), allowed)
+            self.assertLessEqual(set(certificate_text(program, analyse(program).rows)), allowed)
 
 
 if __name__ == "__main__":

@@ -24,7 +24,7 @@ STATEMENTS = (
 )
 BUILTINS = (
     "len range enumerate zip min max sum abs sorted reversed int str bool list tuple dict"
-    " isinstance repr any all divmod ValueError"
+    " isinstance repr any all divmod iter property ValueError"
 ).split()
 METHODS = (
     "append clear copy count endswith extend find get index insert isdigit items join keys"
@@ -41,6 +41,8 @@ BARRED_NAMES = (
     " breakpoint builtins compile copyright credits delattr dir eval exec exit gc getattr globals"
     " hasattr help id importlib license locals methodcaller os quit setattr super type vars sys"
 ).split()
+
+LIBRARY = {"heapq": {"heappush", "heappop"}}
 
 # The interface of the document, as far as it has landed: functions, and classes with their methods.
 INTERFACE = {
@@ -91,6 +93,17 @@ INTERFACE = {
     "rules": {"Rules": ("start", "faults", "moves", "backs")},
     "landmarks": {
         "landmarks": "layout", "round_box": "box ranges marks", "is_head": "layout place",
+    },
+    "tables": {
+        "sort_rows": "program rows", "lower": "rules table", "first_table": "rules limit picks",
+    },
+    "analysis": {
+        "Analysis": ("__len__", "__iter__", "__contains__"), "analyse": "program * limit rounds picks",
+    },
+    "checker": {"accepts": "program rows"},
+    "certificates": {"certificate_text": "program rows", "read_certificate": "program text"},
+    "changes": {
+        "replace_function": "program function", "revise": "analysis function * picks",
     },
 }
 
@@ -176,6 +189,10 @@ class TestImports(unittest.TestCase):
         for name, node in self.imports():
             self.assertIsInstance(node, ast.ImportFrom, name)
             self.assertEqual(node.level, 0, name)
+            if node.module in LIBRARY:
+                self.assertLessEqual({alias.name for alias in node.names}, LIBRARY[node.module])
+                self.assertEqual({alias.asname for alias in node.names}, {None})
+                continue
             self.assertTrue(node.module.startswith("neverhappens."), name)
             self.assertIn(node, TREES[name].body, name)
             for alias in node.names:
@@ -187,6 +204,16 @@ class TestImports(unittest.TestCase):
         nodes = [node for node in TREES[name].body if not isinstance(node, ast.ImportFrom)]
         return bound_names(ast.Module(nodes, []))
 
+    def test_l2_the_library_is_called_on_the_spot(self):
+        for name, tree in TREES.items():
+            names = {alias.name for node in tree.body if isinstance(node, ast.ImportFrom)
+                     and node.module in LIBRARY for alias in node.names}
+            called = {id(node.func) for node in ast.walk(tree)
+                      if isinstance(node, ast.Call) and not node.keywords}
+            for node in ast.walk(tree):
+                if isinstance(node, ast.Name) and node.id in names:
+                    self.assertIn(id(node), called, name)
+
     def test_l2_every_import_is_used(self):
         for name, tree in TREES.items():
             used = {node.id for node in ast.walk(tree) if isinstance(node, ast.Name)}
@@ -197,7 +224,8 @@ class TestImports(unittest.TestCase):
 
     def test_l16_no_circles(self):
         leads = {name: {node.module.split(".")[1] for node in tree.body
-                        if isinstance(node, ast.ImportFrom)} for name, tree in TREES.items()}
+                        if isinstance(node, ast.ImportFrom) and node.module not in LIBRARY}
+                 for name, tree in TREES.items()}
         while leads:
             free = [name for name, others in leads.items() if not others & set(leads)]
             self.assertTrue(free, leads)
@@ -223,13 +251,29 @@ class TestStatements(unittest.TestCase):
                             ast.USub), name)
 
     def test_l4_functions(self):
+        holders = {id(part): node for _, node in nodes_of(ast.ClassDef) for part in node.body}
         for name, node in nodes_of((ast.FunctionDef, ast.ClassDef)):
-            self.assertEqual(node.decorator_list, [], name)
+            for decorator in node.decorator_list:
+                self.assertEqual(decorator.id, "property", name)
+                self.assertIn(id(node), holders, name)
             if isinstance(node, ast.FunctionDef):
                 self.assertIsNone(node.args.vararg)
                 self.assertIsNone(node.args.kwarg)
-                for default in node.args.defaults:
-                    self.assertIsInstance(default, ast.Constant, name)
+                for default in [*node.args.defaults, *node.args.kw_defaults]:
+                    if not isinstance(default, ast.Tuple) or default.elts:
+                        # A name stands for a plain value of the file (test_l3_module_level).
+                        self.assertIsInstance(default, (ast.Constant, ast.Name), name)
+
+    def test_l5_properties_and_operators(self):
+        """They are so short that they change and call nothing."""
+        for name, node in nodes_of(ast.FunctionDef):
+            if node.decorator_list or node.name in ("__len__", "__iter__", "__contains__"):
+                told = [part for part in node.body
+                        if not isinstance(part, ast.Expr) or not isinstance(part.value, ast.Constant)]
+                self.assertEqual([ast.Return], list(map(type, told)), (name, node.name))
+                for part in ast.walk(told[0]):
+                    if isinstance(part, ast.Call):
+                        self.assertIn(part.func.id, ("len", "iter"))
 
     def test_l5_l28_classes(self):
         for name, node in nodes_of(ast.ClassDef):
@@ -247,12 +291,19 @@ class TestStatements(unittest.TestCase):
 
     def test_l7_expressions(self):
         for name, node in nodes_of((
-            ast.NamedExpr, ast.Await, ast.Yield, ast.YieldFrom, ast.Set, ast.SetComp, ast.Lambda,
+            ast.NamedExpr, ast.Await, ast.Yield, ast.YieldFrom, ast.Set, ast.SetComp,
             ast.GeneratorExp, ast.Div, ast.MatMult, ast.Pow, ast.AnnAssign,
         )):
             self.fail((name, node.lineno))
         for name, node in nodes_of(ast.Constant):
             self.assertIsInstance(node.value, (int, str, type(None)), (name, node.lineno))
+
+    def test_l22_lambdas(self):
+        """They are keys by which lists are sorted, or least and greatest ones found."""
+        keyed = {id(keyword.value) for _, node in nodes_of(ast.Call) for keyword in node.keywords
+                 if keyword.arg == "key" and node.func.id in ("sorted", "min", "max")}
+        for name, node in nodes_of(ast.Lambda):
+            self.assertIn(id(node), keyed, (name, node.lineno))
 
     def test_l7_stars_in_calls(self):
         for name, node in nodes_of(ast.Call):
@@ -354,6 +405,16 @@ class TestStrings(unittest.TestCase):
                 self.assertFalse(isinstance(part, ast.Constant) and isinstance(part.value, str), name)
 
 
+def arguments(made):
+    """The names of the arguments, with a star before those that are passed by name."""
+    found = []
+    for name, parameter in inspect.signature(made).parameters.items():
+        if parameter.kind == parameter.KEYWORD_ONLY and "*" not in found:
+            found.append("*")
+        found.append(name)
+    return found
+
+
 class TestInterface(unittest.TestCase):
     def test_everything_stands_in_its_file(self):
         for name, listed in INTERFACE.items():
@@ -363,8 +424,7 @@ class TestInterface(unittest.TestCase):
                 if isinstance(told, str):
                     self.assertIsInstance(defined[found], ast.FunctionDef)
                     module = importlib.import_module("neverhappens." + name)
-                    parameters = inspect.signature(getattr(module, found)).parameters
-                    self.assertEqual(list(parameters), told.split(), found)
+                    self.assertEqual(arguments(getattr(module, found)), told.split(), found)
                 else:
                     self.assertIsInstance(defined[found], ast.ClassDef)
                     methods = [node.name for node in defined[found].body
@@ -379,7 +439,7 @@ class TestInterface(unittest.TestCase):
             ("rules", "Rules", ["program"]),
         ):
             made = getattr(importlib.import_module("neverhappens." + name), found)
-            self.assertEqual(list(inspect.signature(made).parameters), told)
+            self.assertEqual(arguments(made), told)
 
 
 if __name__ == "__main__":
