@@ -363,3 +363,168 @@ class NumberMaker(CarefulMaker):
         if kind == LARGE:
             return self.number(2)
         return CarefulMaker.fitting(self, kind)
+
+
+class GentleMaker(PlainMaker, CarefulMaker):
+    """Makes plain programs whose runs go far."""
+
+    def variables(self, name):
+        results = [result for _, _, result in self.heads if result is not None]
+        own = tuple((name + "r" + str(at), result) for at, result in enumerate(results))
+        return PlainMaker.variables(self, name) + own
+
+
+class TinyMaker:
+    """Makes short plain programs whose functions call each other, and that end or go round."""
+
+    def __init__(self, seed):
+        self.chance = random.Random(seed)
+        self.kinds = {}
+
+    def program(self):
+        fields = (("leaf", (("n", ("num", 0, 2)),)), ("pair", (("one", ("ref", "leaf")), ("f", FLAG))))
+        shared = (("g", ("num", 0, 2)), ("p", ("ref", "pair")))
+        heads = (("up", (("k", ("num", 0, 2)),), ("num", 0, 2)), ("use", (("q", ("ref", "pair")),), None),
+                 ("main", (), None))
+        functions = []
+        for name, params, result in heads:
+            own = ((name + "v", ("num", 0, 2)), (name + "l", ("ref", "leaf")), (name + "q", ("ref", "pair")))
+            self.kinds = dict([*shared, *params, *own])
+            body = self.body(3, False)
+            if name == "main":
+                body = (("input", "g"), ("new", "mainq"), *body)
+            functions.append((name, params, result, own, body))
+        return (fields, (), shared, tuple(functions))
+
+    def name(self, kind):
+        return self.chance.choice([name for name, other in self.kinds.items() if other == kind])
+
+    def number(self):
+        variable = ("name", self.name(("num", 0, 2)))
+        return self.chance.choice([
+            ("num", self.chance.randrange(3)), variable, variable, ("+", variable, ("num", 1)),
+            ("-", variable, ("num", 1)),
+        ])
+
+    def flag(self):
+        return self.chance.choice([
+            ("<", self.number(), self.number()), ("==", self.number(), ("num", 1)),
+            ("same", ("name", self.name(("ref", "pair"))), ("null",)),
+        ])
+
+    def body(self, depth, in_while):
+        return tuple(self.statement(depth, in_while) for _ in range(self.chance.randrange(1, 4)))
+
+    def statement(self, depth, in_while):
+        number, leaf, pair = ("num", 0, 2), ("ref", "leaf"), ("ref", "pair")
+        choices = [
+            lambda: ("input", self.name(number)), lambda: ("set", self.name(number), self.number()),
+            lambda: ("new", self.name(self.chance.choice([leaf, pair]))),
+            lambda: ("free", self.name(self.chance.choice([leaf, pair]))),
+            lambda: ("load", self.name(leaf), self.name(pair), "one"),
+            lambda: ("load", self.name(number), self.name(leaf), "n"),
+            lambda: ("store", self.name(leaf), "n", self.number()),
+            lambda: ("store", self.name(pair), "one", ("name", self.name(leaf))),
+            lambda: ("store", self.name(pair), "f", self.flag()),
+            lambda: ("set", self.name(pair), ("name", self.name(pair))),
+            lambda: ("call", self.name(number), "up", (self.number(),)),
+            lambda: ("call", None, "use", (("name", self.name(pair)),)),
+            lambda: ("assert", self.flag()),
+        ]
+        if in_while:
+            choices.append(lambda: ("break",))
+        if depth:
+            choices += [
+                lambda: ("if", self.flag(), self.body(depth - 1, in_while), self.body(depth - 1, in_while)),
+                lambda: ("while", self.flag(), self.body(depth - 1, True)),
+            ] * 3
+        if "k" in self.kinds:
+            choices.append(lambda: ("return", self.number()))
+        return self.chance.choice(choices)()
+
+
+class SimpleMaker:
+    """Makes short simple programs with large kinds of few values, and records.
+
+    With `kind` as another large kind the programs have as many values as are asked for.
+    """
+
+    def __init__(self, seed, kind=("num", 0, 8)):
+        self.chance = random.Random(seed)
+        self.large = kind
+        self.kinds = {}
+
+    def program(self):
+        fields = (("leaf", (("n", ("num", 0, 2)), ("f", FLAG))),)
+        shared = (("g", self.large), ("s", ("num", 0, 2)), ("p", ("ref", "leaf")))
+        heads = (("up", (("k", self.large), ("h", FLAG)), self.large), ("down", (("k", ("num", 0, 2)),), ("num", 0, 2)),
+                 ("main", (), None))
+        functions = []
+        for name, params, result in heads:
+            own = ((name + "x", self.large), (name + "v", ("num", 0, 2)), (name + "f", FLAG), (name + "l", ("ref", "leaf")))
+            self.kinds = dict([*shared, *params, *own])
+            self.result = result
+            body = self.body(2, False)
+            if name == "main":
+                body = (("input", "g"), ("new", "p"), *body, self.statement(1, False))
+            functions.append((name, params, result, own, body))
+        return (fields, (), shared, tuple(functions))
+
+    def name(self, kind):
+        return self.chance.choice([name for name, other in self.kinds.items() if other == kind])
+
+    def small(self):
+        variable = ("name", self.name(("num", 0, 2)))
+        return self.chance.choice([
+            ("num", self.chance.randrange(4)), variable, ("+", variable, ("num", 1)), ("*", variable, variable), ("-", variable, ("num", 1)),
+        ])
+
+    def number(self):
+        variable = ("name", self.name(self.large))
+        return self.chance.choice([
+            self.small(), variable, variable, ("+", variable, self.small()), ("-", variable, self.small()), ("+", self.small(), variable),
+        ])
+
+    def flag(self, depth=1):
+        word = self.chance.choice(["<", "<=", "==", "!="])
+        plain = [
+            lambda: (word, self.number(), self.number()), lambda: (word, self.number(), self.number()),
+            lambda: ("name", self.name(FLAG)), lambda: ("same", ("name", self.name(("ref", "leaf"))), ("null",)),
+        ]
+        if depth:
+            plain += [
+                lambda: ("not", self.flag(depth - 1)), lambda: ("and", self.flag(depth - 1), self.flag(depth - 1)),
+                lambda: ("or", self.flag(depth - 1), self.flag(depth - 1)),
+            ]
+        return self.chance.choice(plain)()
+
+    def given(self, kind):
+        if kind == FLAG:
+            return self.flag()
+        return self.number() if kind[0] == "num" else ("name", self.name(kind))
+
+    def body(self, depth, in_while):
+        return tuple(self.statement(depth, in_while) for _ in range(self.chance.randrange(1, 3)))
+
+    def statement(self, depth, in_while):
+        leaf = ("ref", "leaf")
+        kind = self.chance.choice([self.large, self.large, ("num", 0, 2), FLAG, leaf])
+        number = self.chance.choice([self.large, ("num", 0, 2), FLAG])
+        choices = [
+            lambda: ("input", self.name(number)), lambda: ("input", self.name(number)), lambda: ("set", self.name(kind), self.given(kind)),
+            lambda: ("set", self.name(kind), self.given(kind)), lambda: ("new", self.name(leaf)), lambda: ("free", self.name(leaf)),
+            lambda: ("load", self.name(("num", 0, 2)), self.name(leaf), "n"), lambda: ("store", self.name(leaf), "n", self.number()),
+            lambda: ("store", self.name(leaf), "f", self.flag()), lambda: ("assert", self.flag()),
+            lambda: ("call", self.name(self.large), "up", (self.number(), self.flag())),
+            lambda: ("call", self.name(("num", 0, 2)), "down", (self.number(),)),
+        ]
+        if in_while:
+            choices.append(lambda: ("break",))
+        if depth:
+            choices += [
+                lambda: ("if", self.flag(), self.body(depth - 1, in_while), self.body(depth - 1, in_while)),
+                lambda: ("while", self.flag(), self.body(depth - 1, True)),
+            ] * 2
+        if self.result is not None:
+            choices.append(lambda: ("return", self.given(self.result)))
+        return self.chance.choice(choices)()

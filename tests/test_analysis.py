@@ -168,7 +168,7 @@ class TestRuns(unittest.TestCase):
         analyses = [analyse(program, limit=limit, rounds=rounds) for rounds in (0, 4)]
         if analyses[0].cut:
             return 0
-        lists = {inputs: True for level in levels(program, visits, most) for inputs, _ in level}
+        lists = {inputs: True for level in levels(program, visits, most) for inputs, _, _ in level}
         for inputs in lists:
             for row in met_rows(self, program, rules, list(inputs), visits):
                 self.assertTrue(is_covered(row, analyses[0].first), row)

@@ -256,7 +256,7 @@ class TestRevise(ChangeCase):
 
     def test_programs_by_chance(self):
         kept, others = 0, 0
-        for seed in range(25):
+        for seed in range(9):
             for maker in (CarefulMaker, NumberMaker, PlainMaker, RightMaker):
                 program = maker(seed).program()
                 for function in program[3]:
@@ -267,8 +267,8 @@ class TestRevise(ChangeCase):
                             continue
                         kept += numbers[0]
                         others += numbers[1]
-        self.assertGreater(kept, 500)
-        self.assertGreater(others, 500)
+        self.assertGreater(kept, 200)
+        self.assertGreater(others, 200)
 
 
 if __name__ == "__main__":

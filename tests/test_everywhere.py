@@ -10,24 +10,31 @@ from neverhappens.changes import replace_function, revise
 from neverhappens.checker import accepts
 from neverhappens.cuts import assign, assume, at_least, at_most, equal_to
 from neverhappens.describing import rows_of_run
+from neverhappens.desk import Desk, replay
+from neverhappens.errors import TooLong
 from neverhappens.forms import form_of, range_of_form
 from neverhappens.graphs import heads, nodes
+from neverhappens.hunting import hunt, is_simple
 from neverhappens.keys import is_key, number_key
 from neverhappens.kinds import is_discrete, is_large, is_small, kind_values, start_value
 from neverhappens.landmarks import is_head, landmarks, round_box
 from neverhappens.layouts import Layout
+from neverhappens.least import entry_visits, frame_visits
 from neverhappens.names import check_program
 from neverhappens.plain import Machine, run
 from neverhappens.printing import expression_text, function_text, kind_text, program_text
 from neverhappens.reading import read_expression, read_function, read_program
 from neverhappens.rules import Rules
+from neverhappens.sites import is_plain, sites
 from neverhappens.steps import arrive, step
 from neverhappens.tables import first_table, lower, sort_rows
 from neverhappens.values import evaluate
+from neverhappens.verdicts import holds, never_by, report, returns, verdict, visited
 from neverhappens.walking import Walker, walk
+from neverhappens.witnesses import find_witness, witness_inputs, witness_rows, witness_visits
 from neverhappens.zones import bound, close, greatest_point, is_inside, join_boxes, least_point
 from neverhappens.zones import meet_boxes, range_box, range_of
-from tests.making import CarefulMaker, NumberMaker, RightMaker
+from tests.making import CarefulMaker, NumberMaker, RightMaker, SimpleMaker, TinyMaker
 from tests.samples import A, DOOR, DOOR_TEXT, EXPRESSIONS
 
 # Beyond each of the limits: names, kinds, arrays, functions, parameters, statements, nesting.
@@ -231,6 +238,52 @@ class TestPlainValues(unittest.TestCase):
             ):
                 self.assertTrue(is_plain_value(found))
 
+    def test_results_about_all_runs(self):
+        for maker in (TinyMaker, SimpleMaker, CarefulMaker):
+            for seed in range(12):
+                program = maker(seed).program()
+                analysis = analyse(program)
+                found = [is_plain(program), is_simple(program), *never_by(program, analysis.rows)]
+                for site, answer in report(analysis):
+                    found += [site, answer, verdict(analysis, *site), visited(analysis, *site[:2]), returns(analysis, site[0])]
+                    found.append(holds(analysis, *site[:2], ("flag", False)))
+                    found += self.results_of_a_witness(program, find_witness(analysis, *site))
+                    answer = hunt(program, *site, visits=6)
+                    self.assertIs(type(answer), tuple)
+                    if answer[0] == "run":
+                        self.assertEqual((type(answer[1]), type(answer[2])), (list, int))
+                        found += answer[1]
+                if is_plain(program):
+                    for numbers in (frame_visits(analysis), entry_visits(analysis)):
+                        self.assertIs(type(numbers), dict)
+                        found += list(numbers.items())
+                for asked in (report(analysis), sites(program), never_by(program, analysis.rows)):
+                    self.assertIs(type(asked), list)
+                for value in found:
+                    self.assertTrue(is_plain_value(value), value)
+
+    def results_of_a_witness(self, program, witness):
+        if witness is None:
+            return [None]
+        rows, inputs = witness_rows(program, witness), witness_inputs(program, witness)
+        self.assertEqual((type(witness), type(rows), type(inputs)), (tuple, list, list))
+        return [witness, *rows, *inputs, witness_visits(program, witness)]
+
+    def test_results_that_are_changed_afterwards(self):
+        """Lists and dicts that were returned are not those that later answers are made of."""
+        analysis = analyse(TinyMaker(3).program(), limit=600)
+        program = analysis.program
+        witness = (("start",), ("step", 0, 1))
+        for asked in (
+            lambda: sites(program), lambda: report(analysis), lambda: never_by(program, analysis.rows),
+            lambda: frame_visits(analysis), lambda: entry_visits(analysis), lambda: witness_rows(program, witness),
+            lambda: witness_inputs(program, witness), lambda: list(analysis),
+        ):
+            found = asked()
+            before = repr(found)
+            found.clear()
+            self.assertEqual(repr(asked()), before)
+
     def test_tuples_in_each_state(self):
         for made in (Machine, Walker):
             state = made(DOOR, []).state()
@@ -280,6 +333,30 @@ class TestLimits(unittest.TestCase):
         text = certificate_text(program, analysis.rows)
         self.assertGreater(len(text), 20000)
         self.assertEqual(read_certificate(program, text), analysis.rows)
+
+    def test_questions_beyond_the_limits(self):
+        text = "def main()\n  var k: 0..7\n  while true\n    k = input\n    assert (k != 7)\n  end\nend\n"
+        program = read_program(text)
+        analysis = analyse(program, limit=3000, rounds=9)
+        self.assertEqual(verdict(analysis, "main", 2, "assert"), ("can", 3))
+        test = ("flag", True)
+        for _ in range(100):
+            test = ("not", ("and", test, ("flag", True)))
+        self.assertEqual(holds(analysis, "main", 1, test), ("always",))
+        answer = hunt(program, "main", 2, "assert", visits=500, tries=20000)
+        self.assertEqual(run(program, *answer[1:])[0], ("fault", "main", 2, "assert"))
+        lines = [("start",)]
+        for at in range(1000):
+            lines += [("step", 3 * at, None), ("step", 3 * at + 1, 2), ("step", 3 * at + 2, None)]
+        witness = tuple(lines)
+        self.assertEqual(witness_visits(program, witness), 3000)
+        self.assertEqual(witness_inputs(program, witness), [2] * 1000)
+        with self.assertRaises(TooLong):
+            witness_inputs(program, witness, most=999)
+        desk = Desk(limit=3000, rounds=9)
+        for at in range(70):
+            desk.load(text)
+        self.assertEqual(len(replay(desk.journal(), limit=3000, rounds=9)), 70)
 
     def test_names_and_numbers_beyond_the_limits(self):
         far = 10 ** 700

@@ -21,6 +21,7 @@ TREES = {name: ast.parse(text) for name, text in TEXTS.items()}
 STATEMENTS = (
     ast.FunctionDef, ast.ClassDef, ast.Return, ast.Assign, ast.AugAssign, ast.For, ast.While,
     ast.If, ast.Raise, ast.ImportFrom, ast.Expr, ast.Pass, ast.Break, ast.Continue, ast.Delete,
+    ast.Try,
 )
 BUILTINS = (
     "len range enumerate zip min max sum abs sorted reversed int str bool list tuple dict"
@@ -44,7 +45,7 @@ BARRED_NAMES = (
 
 LIBRARY = {"heapq": {"heappush", "heappop"}}
 
-# The interface of the document, as far as it has landed: functions, and classes with their methods.
+# The interface of the document: functions with their arguments, and classes with their methods.
 INTERFACE = {
     "errors": {
         "NeverError": (), "BadText": (), "Twice": (), "Unknown": (), "BadKind": (),
@@ -104,6 +105,28 @@ INTERFACE = {
     "certificates": {"certificate_text": "program rows", "read_certificate": "program text"},
     "changes": {
         "replace_function": "program function", "revise": "analysis function * picks",
+    },
+    "sites": {"sites": "program", "is_plain": "program"},
+    "least": {"frame_visits": "analysis", "entry_visits": "analysis"},
+    "verdicts": {
+        "verdict": "analysis function place fault", "report": "analysis",
+        "visited": "analysis function place", "holds": "analysis function place expression",
+        "returns": "analysis function", "never_by": "program rows",
+    },
+    "witnesses": {
+        "witness_rows": "program witness", "witness_visits": "program witness",
+        "witness_inputs": "program witness * most",
+        "find_witness": "analysis function place fault",
+    },
+    "hunting": {
+        "hunt": "program function place fault * visits tries", "is_simple": "program",
+    },
+    "desk": {
+        "Desk": (
+            "load", "change", "undo", "ask", "answers", "certificate", "trial", "journal", "text", "kept",
+            "__len__", "__iter__", "__contains__",
+        ),
+        "replay": "journal * limit rounds",
     },
 }
 
@@ -312,6 +335,16 @@ class TestStatements(unittest.TestCase):
                     self.assertIsInstance(part.value, (ast.Name, ast.Attribute), name)
             self.assertNotIn(None, [keyword.arg for keyword in node.keywords])
 
+    def test_l19_only_own_errors_are_caught(self):
+        for name, node in nodes_of(ast.Try):
+            self.assertEqual(node.finalbody, [], name)
+            for handler in node.handlers:
+                self.assertEqual((handler.type.id, handler.name), ("NeverError", None), name)
+        for name, node in nodes_of(ast.Raise):
+            self.assertIsInstance(node.exc, ast.Call, name)
+            self.assertIn(node.exc.func.id, INTERFACE["errors"], name)
+            self.assertIsNone(node.cause, name)
+
     def test_l20_is(self):
         for name, node in nodes_of(ast.Compare):
             for operator, right in zip(node.ops, node.comparators):
@@ -437,6 +470,7 @@ class TestInterface(unittest.TestCase):
             ("plain", "Machine", ["program", "inputs"]),
             ("walking", "Walker", ["program", "inputs"]),
             ("rules", "Rules", ["program"]),
+            ("desk", "Desk", ["*", "limit", "rounds"]),
         ):
             made = getattr(importlib.import_module("neverhappens." + name), found)
             self.assertEqual(arguments(made), told)

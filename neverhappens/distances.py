@@ -1,0 +1,71 @@
+"""How many visits there are at least between places, whatever the values are."""
+
+
+class Distances:
+    """The least numbers of visits to a place, the target, and to the ends of frames.
+
+    `ends` tells for pairs (function, place) how many visits a frame makes at least until it ends,
+    `ways` how many are made at least before the target is visited, within the frame and those above
+    it. A pair is left out if there is no such number.
+    """
+
+    def __init__(self, layouts, target):
+        self.layouts = layouts
+        self.ends = {}
+        self.ways = {}
+        for name, layout in layouts.items():
+            self.ends[(name, layout.exit)] = 0
+        self.spread(self.ends, self.end_from)
+        self.ways[target] = 0
+        self.spread(self.ways, self.way_from)
+
+    def spread(self, numbers, number_from):
+        """Finds the numbers of all places, until none becomes less."""
+        grows = True
+        while grows:
+            grows = False
+            for name, layout in self.layouts.items():
+                for place in reversed(range(layout.exit)):
+                    number = number_from(name, place)
+                    old = numbers.get((name, place))
+                    if number is not None and (old is None or number < old):
+                        numbers[(name, place)] = number
+                        grows = True
+
+    def end_from(self, name, place):
+        """How many visits lead to the end of the frame, as far as this is known."""
+        statement, after, other = self.layouts[name].graph[place]
+        found = [self.ends.get((name, after)), self.ends.get((name, other))]
+        if statement[0] == "call":
+            found = [added(self.ends.get((statement[2], 0)), found[0])]
+        return added(1, least(found))
+
+    def way_from(self, name, place):
+        """How many visits lead to the target, as far as this is known."""
+        statement, after, other = self.layouts[name].graph[place]
+        found = [self.ways.get((name, after)), self.ways.get((name, other))]
+        if statement[0] == "call":
+            behind = added(self.ends.get((statement[2], 0)), found[0])
+            found = [self.ways.get((statement[2], 0)), behind]
+        return added(1, least(found))
+
+    def of_frames(self, frames):
+        """How many visits there are at least before the target is visited, None if it never is."""
+        found = []
+        passed = 0
+        for at, (name, place, _) in enumerate(reversed(frames)):
+            # A frame below the top frame goes on behind its call.
+            here = (name, place if at == 0 else self.layouts[name].graph[place][1])
+            found.append(added(passed, self.ways.get(here)))
+            passed = added(passed, self.ends.get(here))
+        return least(found)
+
+
+def added(left, right):
+    """The sum of two numbers, None if one is None."""
+    return None if left is None or right is None else left + right
+
+
+def least(numbers):
+    """The least of the numbers that are not None, None if there is none."""
+    return min([number for number in numbers if number is not None], default=None)
