@@ -7,7 +7,7 @@ from neverhappens.forms import occurs
 from neverhappens.groups import start_group
 from neverhappens.landmarks import expressions_of
 from neverhappens.layouts import Layout
-from neverhappens.parting import COMPARISONS
+from neverhappens.parting import COMPARISONS, TooManyCases
 from neverhappens.plain import run
 from neverhappens.statements import list_statements
 from neverhappens.verdicts import check_site
@@ -28,8 +28,10 @@ class Hunt:
         self.tries = tries
         self.layouts = {function[0]: Layout(program, function[0]) for function in program[3]}
         self.distances = Distances(self.layouts, site[:2])
+        # Triples of numbers by which groups are taken, the last one that of the group.
         self.waiting = []
-        self.groups = []
+        self.groups = {}
+        self.added = 0
         # For the outline of each group the least number of visits with which it was found.
         self.seen = {}
         self.steps = ALL_STEPS
@@ -47,13 +49,14 @@ class Hunt:
                 return
             self.seen[outline] = visits
         # Among those that are as near, the ones that have come further go first.
-        heappush(self.waiting, (visits + distance, -visits, len(self.groups)))
-        self.groups.append(group)
+        heappush(self.waiting, (visits + distance, -visits, self.added))
+        self.groups[self.added] = group
+        self.added += 1
 
     def take(self):
-        """Visits the next group. Returns the inputs of a run that has the fault, or None."""
+        """Visits the next group. Returns the answer if a run of it has the fault, otherwise None."""
         _, negative, at = heappop(self.waiting)
-        group = self.groups[at]
+        group = self.groups.pop(at)
         visits = 1 - negative
         faults, groups = visit_group(self.layouts, group)
         if group.frames[-1][:2] == self.site[:2]:
@@ -78,9 +81,17 @@ class Hunt:
 
     def answer(self):
         """The answer of the search."""
+        try:
+            return self.follow()
+        except TooManyCases:
+            return ("cut",)
+
+    def follow(self):
+        """Visits one group after the other until the answer is known."""
         self.add(start_group(self.program, self.layouts), 0)
         while self.waiting:
-            if len(self.groups) > self.tries + 1:
+            # The first group, before all visits, does not count.
+            if self.added > self.tries + 1:
                 return ("cut",)
             found = self.take()
             if found is not None:
@@ -94,21 +105,17 @@ def hunt(program, function, place, fault, *, visits=20, tries=500):
     return Hunt(program, (function, place, fault), visits, tries).answer()
 
 
-def operands_compared(expression):
-    """The list of the operands of all comparisons in a flag expression or a reference."""
+def numbers_asked(expression):
+    """The list of the number expressions whose form counts: the expression, or what it compares."""
     word = expression[0]
+    if word in ("num", "+", "-", "*"):
+        return [expression]
     if word in COMPARISONS:
         return list(expression[1:])
+    # A name alone has a simple form, whatever its kind is.
     if word not in ("not", "and", "or"):
         return []
-    return [found for part in expression[1:] for found in operands_compared(part)]
-
-
-def is_number_expression(expression, kinds):
-    """True if the expression is a number, where the names have these kinds."""
-    if expression[0] == "name":
-        return kinds[expression[1]][0] == "num"
-    return expression[0] in ("num", "+", "-", "*")
+    return [found for part in expression[1:] for found in numbers_asked(part)]
 
 
 def is_simple_number(expression, large):
@@ -131,8 +138,7 @@ def is_simple(program):
         layout = Layout(program, function[0])
         for statement, _ in list_statements(function[4]):
             for expression in expressions_of(statement):
-                is_one = is_number_expression(expression, layout.kinds)
-                numbers = [expression] if is_one else operands_compared(expression)
+                numbers = numbers_asked(expression)
                 if not all([is_simple_number(number, layout.large) for number in numbers]):
                     return False
     return program[1] == ()

@@ -4,11 +4,21 @@ The values of variables are told by a dict: numbers, flags and references, and s
 large kind.
 """
 
+from neverhappens.errors import NeverError
 from neverhappens.kinds import is_large, kind_values
 from neverhappens.sums import is_number, minus, number_sum, plus
-from neverhappens.values import apply, evaluate
+from neverhappens.values import evaluate
 
 COMPARISONS = ("<", "<=", "==", "!=")
+# Each case is a class of runs, or several; a hunt gives up long before there are so many.
+MOST_CASES = 10000
+
+
+class TooManyCases(NeverError):
+    """A visit that parts runs into more cases than a hunt looks at."""
+
+    def __init__(self):
+        super().__init__("there are too many cases")
 
 
 def sum_of(expression, values, limits):
@@ -27,34 +37,51 @@ def sum_of(expression, values, limits):
 
 
 def compared(expression, values, limits):
-    """The cases (truth, limits) of a comparison: one for less, for equal and for greater."""
+    """The cases (truth, limits) of a comparison, as few as boxes can tell apart."""
+    word = expression[0]
     limits, left = sum_of(expression[1], values, limits)
     limits, right = sum_of(expression[2], values, limits)
     total = minus(left, right)
-    found = []
-    for sign, part in (
-        (-1, limits.at_most(total, -1)), (0, limits.within(total, 0, 0)),
-        (1, limits.at_least(total, 1)),
-    ):
-        if part is not None:
-            found.append((apply(expression[0], sign, 0), part))
-    return found
+    if word == "<":
+        parts = [(True, limits.at_most(total, -1)), (False, limits.at_least(total, 0))]
+    elif word == "<=":
+        parts = [(True, limits.at_most(total, 0)), (False, limits.at_least(total, 1))]
+    else:
+        same = word == "=="
+        parts = [
+            (same, limits.within(total, 0, 0)),
+            (not same, limits.at_most(total, -1)), (not same, limits.at_least(total, 1)),
+        ]
+    return [(truth, part) for truth, part in parts if part is not None]
 
 
-def truths(expression, values, limits):
-    """The cases (truth, limits) of a flag expression, one for each way its comparisons come out."""
+def cases_of(expression, values, limits):
+    """The cases (value, limits) of a flag expression or a reference.
+
+    Runs of different cases differ in how the comparisons come out, but not all that differ in this
+    are parted: what does not matter for the value is left open.
+    """
     word = expression[0]
     if word in COMPARISONS:
         return compared(expression, values, limits)
     if word == "not":
-        return [(not truth, part) for truth, part in truths(expression[1], values, limits)]
+        return [(not truth, part) for truth, part in cases_of(expression[1], values, limits)]
     if word == "and" or word == "or":
-        return [
-            (apply(word, first, second), part)
-            for first, between in truths(expression[1], values, limits)
-            for second, part in truths(expression[2], values, between)
-        ]
+        found = []
+        for truth, part in cases_of(expression[1], values, limits):
+            if truth == (word == "or"):
+                found.append((truth, part))
+            else:
+                found.extend(cases_of(expression[2], values, part))
+        return checked_cases(found)
     return [(evaluate(expression, values), limits)]
+
+
+def checked_cases(cases):
+    """The list of cases, if there are not too many."""
+    if len(cases) > MOST_CASES:
+        raise TooManyCases()
+    return cases
 
 
 def number_cases(kind, total, limits):
@@ -70,13 +97,6 @@ def number_cases(kind, total, limits):
     return [(value, part) for value, part in cases if part is not None]
 
 
-def discrete_cases(expression, kind, values, limits):
-    """The cases (value, limits) of giving a flag expression or a reference to a target."""
-    if kind[0] == "flag":
-        return truths(expression, values, limits)
-    return [(evaluate(expression, values), limits)]
-
-
 def given(expression, kind, values, limits):
     """What comes of giving an expression to a target of this kind.
 
@@ -84,7 +104,7 @@ def given(expression, kind, values, limits):
     cases (value, limits).
     """
     if kind[0] != "num":
-        return [], discrete_cases(expression, kind, values, limits)
+        return [], cases_of(expression, values, limits)
     limits, total = sum_of(expression, values, limits)
     return limits.outside(total, kind[1], kind[2]), number_cases(kind, total, limits)
 
@@ -116,9 +136,9 @@ def all_given(params, arguments, values, limits):
     cases = [({}, limits)]
     for (name, kind), argument in zip(params, arguments):
         if kind[0] != "num":
-            cases = [
+            cases = checked_cases([
                 ({**known, name: value}, part)
                 for known, before in cases
-                for value, part in discrete_cases(argument, kind, values, before)
-            ]
+                for value, part in cases_of(argument, values, before)
+            ])
     return [numbers_given(params, arguments, values, case) for case in cases]

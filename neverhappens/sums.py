@@ -65,11 +65,7 @@ def term_reach(box, term):
 
 
 def reach(box, total):
-    """The pair of the least and the greatest number that the box tells for a sum."""
-    pair = difference_of(total[0])
-    if pair is not None:
-        i, j, factor = pair
-        return (total[1] - factor * box[j][i], total[1] + factor * box[i][j])
+    """A pair of numbers between which the sum lies in the box."""
     ends = [term_reach(box, term) for term in total[0]]
     low = total[1] + sum([end for end, _ in ends])
     return (low, total[1] + sum([end for _, end in ends]))

@@ -7,7 +7,7 @@ limits of the runs that have it; the runs of one pair belong to one class.
 
 from neverhappens.groups import end_frame, first_frame, settled
 from neverhappens.kinds import is_large, kind_values, start_value
-from neverhappens.parting import all_given, given, number_cases, sum_of, truths
+from neverhappens.parting import all_given, cases_of, given, number_cases, sum_of
 from neverhappens.scopes import array_named, fields_named
 
 
@@ -181,7 +181,7 @@ def visit_return(spot, expression):
 
 def visit_test(spot, expression):
     """The frame goes on by what the expression of an if or a while is."""
-    cases = truths(expression, spot.worths, spot.group.limits)
+    cases = cases_of(expression, spot.worths, spot.group.limits)
     return [], [
         spot.moved(spot.group.with_limits(limits), spot.after if truth else spot.other)
         for truth, limits in cases
@@ -197,7 +197,7 @@ def visit_assert(spot, expression):
     """The frame goes on if the expression holds."""
     faults = []
     groups = []
-    for truth, limits in truths(expression, spot.worths, spot.group.limits):
+    for truth, limits in cases_of(expression, spot.worths, spot.group.limits):
         if truth:
             groups.append(spot.moved(spot.group.with_limits(limits), spot.after))
         else:

@@ -101,12 +101,15 @@ class TestDeeds(DeskCase):
             self.assertEqual(desk.trial(MAIN), report(revise(revise(analysis, read_function(NOTE)), read_function(MAIN))))
 
     def test_numbers_without_arguments(self):
-        text = "".join(f"  k = {at % 8}\n" for at in range(100))
-        desk = Desk()
-        desk.load(f"def main()\n  var k: 0..7\n  var f: flag\n  f = input\n{text}end\n")
-        self.assertEqual(desk.answers()[0][1], ("open",))
-        desk.load(f"def main()\n  var k: 0..7\n  var f: flag\n  f = input\n{text[:-8 * 2]}end\n")
-        self.assertEqual(desk.answers()[0][1], ("never",))
+        # 200 rows are not too many, and 201 are: behind the input there are two for each statement.
+        text = "".join(f"  k = {at % 8}\n" for at in range(99))
+        for first, many, wanted in (("", 200, "never"), ("  k = 3\n", 201, "open")):
+            program = f"def main()\n  var k: 0..7\n  var f: flag\n{first}  f = input\n{text}end\n"
+            self.assertEqual(len(analyse(read_program(program), limit=600)), many)
+            desk = Desk()
+            desk.load(program)
+            for told in (desk, replay([("load", program)])):
+                self.assertEqual(told.answers()[0][1], (wanted,))
         # The first round would not be enough, see test_analysis.
         text = "def main()\n  var x: 0..1000\n  while (x < 500)\n    x = (x + 3)\n  end\n  assert (x != ((250 * 2) + 5))\nend\n"
         told = Desk()

@@ -43,6 +43,22 @@ HARD = [
      "  return k\nend\ndef main()\n  var x: 0..1000000\n  var f: flag\n  x = input\n  f = down(x, true)\nend\n", 3, "range", 5),
 ]
 
+# More of them, in which the border between less, equal and greater counts, or single parts of a state.
+HARD += [
+    ("def main()\n  var x: 0..99\n  var y: 0..99\n  x = input\n  y = (x + 1)\n  assert (y <= x)\nend\n", 2, "assert", 3),
+    ("def main()\n  var x: 0..99\n  var y: 0..99\n  x = input\n  y = (x + 1)\n  assert (not (x < y))\nend\n", 2, "assert", 3),
+    ("def main()\n  var x: 0..99\n  var y: 0..99\n  x = input\n  y = (x - 1)\n  assert (x <= y)\nend\n", 2, "assert", 3),
+    ("def main()\n  var x: 0..99\n  var y: 0..99\n  x = input\n  y = x\n  assert (x != y)\nend\n", 2, "assert", 3),
+    ("def main()\n  var x: 0..99\n  var y: 0..99\n  x = input\n  y = input\n  if (x != y)\n    if (x < (y + 1))\n      assert ((x + 1) < y)\n    end\n  end\nend\n",
+     4, "assert", 5),
+    ("record e\nend\nrecord r\n  a: 0..3\n  b: 0..3\n  c: 0..3\nend\ndef main()\n  var o: r\n  var p: r\n  var q: r\n  var n: e\n  var m: e\n  var k: 0..3\n"
+     "  o = new\n  p = new\n  q = new\n  n = new\n  m = new\n  p.a = 1\n  p.b = 2\n  p.c = 3\n  p.b = 1\n  q.a = 2\n  o.c = 2\n  free o\n  k = p.c\n"
+     "  assert (k != 3)\nend\n", 13, "assert", 14),
+    ("record e\nend\ndef main()\n  var n: e\n  var m: e\n  n = new\n  m = new\n  free n\n  free m\n  free n\nend\n", 4, "gone", 5),
+    ("def f(a: 0..9, k: 0..3, b: 0..9, g: flag): 0..9\n  if g\n    return b\n  end\n  return (a + k)\nend\ndef main()\n  var x: 0..9\n  var y: 0..9\n"
+     "  x = input\n  y = input\n  y = f(x, (y - 6), y, (x == y))\n  assert (y != 8)\nend\n", 3, "assert", 6),
+]
+
 # Programs that are not simple, whose runs are found nevertheless.
 FOUND = [
     ("def main()\n  var x: 0..1000000\n  var y: 0..1000000\n  x = input\n  y = input\n  assert (not ((x + y) == 1234567))\nend\n", 2, "assert"),
@@ -100,6 +116,8 @@ class TestHard(HuntCase):
             (FOUND[0][0].replace("1234567", "2000001"), 2, "assert"), (FOUND[6][0].replace("(x - 9)", "(x - 8)"), 1, "range"),
             (FOUND[5][0].replace("17", "18"), 3, "assert"), (FOUND[7][0].replace("(x + x)", "(x + 0)"), 1, "range"),
             (FOUND[2][0].replace("391", "10001"), 2, "assert"),
+            ("array a[3]: 0..3\ndef main()\n  var k: 0..2\n  var x: 0..3\n  k = input\n  a[k] = 1\n  x = a[k]\nend\n", 1, "index"),
+            ("array a[3]: 0..3\ndef main()\n  var k: 0..2\n  var x: 0..3\n  k = input\n  a[k] = 1\n  x = a[k]\nend\n", 2, "index"),
         ):
             self.assertEqual(hunt(read_program(text), "main", place, fault), NONE, text)
 
@@ -115,6 +133,37 @@ class TestHard(HuntCase):
         self.check_run(program, ("main", 3, "assert"), answer, 60)
         self.assertEqual(hunt(program, "main", 3, "assert", visits=40), NONE)
         self.assertEqual(answer[2], 41)
+
+
+class TestMerged(HuntCase):
+    """Groups of runs that go on in the same way are looked at once, but no others."""
+
+    def test_groups_that_are_not_told_by_a_box(self):
+        """Both ways come to the same place with the same values; only one of them can go wrong."""
+        for first, second in (("x == 9", "x != 9"), ("x != 9", "x == 9")):
+            text = (f"global f: flag\ndef main()\n  var x: 0..9\n  var y: 0..9\n  x = input\n  y = input\n  f = input\n"
+                    f"  if f\n    if (((x + y) == 7) and ({first}))\n      return\n    end\n  else\n    if (((x + y) == 18) and ({second}))\n      return\n"
+                    f"    end\n  end\n  f = false\n  assert ((x + y) != 18)\nend\n")
+            program = read_program(text)
+            for place, fault in ((9, "assert"),):
+                self.check_run(program, ("main", place, fault), hunt(program, "main", place, fault), 20)
+            self.assertEqual(hunt(read_program(text.replace("!= 18)", "!= 19)")), "main", 9, "assert"), NONE)
+
+    def test_products(self):
+        text = ("def main()\n  var x: 0..9\n  var y: 0..9\n  var f: flag\n  x = input\n  y = input\n  f = input\n  if f\n    y = 3\n  else\n    y = (x * y)\n"
+                "  end\n  f = false\n  assert (y != 8)\nend\n")
+        program = read_program(text)
+        self.check_run(program, ("main", 7, "assert"), hunt(program, "main", 7, "assert"), 20)
+
+    def test_the_same_state_with_more_visits_first(self):
+        """The longer way is looked at first, as the fault seems near on it."""
+        text = ("def t(k: 0..3)\n  assert (k == 1)\nend\ndef main()\n  var f: flag\n  var s: 0..3\n  var n: 0..40\n  f = input\n  if f\n"
+                + "    f = false\n    s = 0\n    s = 0\n    if (s == 1)\n      t(3)\n    end\n  else\n    s = 0\n  end\n" + "  s = 0\n" * 12
+                + "  while (n < 8)\n    n = (n + 1)\n  end\n  t(2)\nend\n")
+        program = read_program(text)
+        least = 2 + 1 + 12 + 17 + 2
+        self.check_run(program, ("t", 0, "assert"), hunt(program, "t", 0, "assert", visits=least), least)
+        self.assertEqual(hunt(program, "t", 0, "assert", visits=least - 1), NONE)
 
 
 class TestAllRuns(HuntCase):
@@ -208,11 +257,48 @@ class TestAllRuns(HuntCase):
         self.assertGreater(runs, 30)
 
 
+class TestManyComparisons(HuntCase):
+    def test_many_cases_in_one_visit(self):
+        """The search gives up where one statement alone has far too many cases."""
+        names = "abcdef"
+        shared = "".join(f"global {name}: 0..1000000000\n" for name in names)
+        reads = "".join(f"  {name} = input\n" for name in names)
+        for many, wanted in ((2, NONE), (6, CUT)):
+            test = "true"
+            for at in range(many):
+                for name in names:
+                    test = f"({test} and ({name} != {100 * at + 7}))"
+            program = read_program(f"{shared}def main()\n{reads}  if {test}\n    a = 1\n  end\n  a = 8\n  assert (a == 8)\nend\n")
+            self.assertIs(is_simple(program), True)
+            self.assertEqual(hunt(program, "main", 9, "assert", visits=20, tries=5000), wanted)
+
+    def test_many_cases_of_arguments(self):
+        params = ", ".join(f"f{at}: flag" for at in range(15))
+        values = ", ".join(f"(x == {3 * at}), (y == {3 * at}), (z == {3 * at})" for at in range(5))
+        text = (f"global x: 0..1000000000\nglobal y: 0..1000000000\nglobal z: 0..1000000000\ndef f({params})\n  assert (x == 1)\nend\n"
+                f"def main()\n  x = input\n  y = input\n  z = input\n  x = 1\n  f({values})\nend\n")
+        self.assertEqual(hunt(read_program(text), "f", 0, "assert"), NONE)
+        self.assertEqual(hunt(read_program(text.replace("  x = 1\n", "")), "f", 0, "assert", tries=5000)[0], "run")
+        text = text.replace("(x == 3)", "((x + y) == 3)").replace("(y == 6)", "((z + y) == 6)").replace("(z == 9)", "((z + x) == 9)")
+        self.assertIn(hunt(read_program(text), "f", 0, "assert")[0], ("none", "cut"))
+
+    def test_what_does_not_matter_is_left_open(self):
+        """Of many comparisons in a row only the first one that decides parts the runs."""
+        expression = "(x < 999999999)"
+        for at in range(30):
+            expression = f"((x != {at}) and {expression})"
+        program = read_program(f"global x: 0..1000000000\ndef main()\n  x = input\n  assert {expression}\n  assert (x != 77)\nend\n")
+        self.assertEqual(hunt(program, "main", 2, "assert", tries=100), ("run", [77], 3))
+
+
 class TestNumbers(HuntCase):
     def test_numbers_without_arguments(self):
         """At most 20 visits, and 500 tries."""
         text = "def main()\n  var n: 0..40\n  while (n < {})\n    n = (n + 1)\n  end\n  assert false\nend\n"
         self.assertEqual(hunt(read_program(text.format(9)), "main", 2, "assert"), ("run", [], 20))
+        longer = read_program(text.format(9).replace("assert false", "n = n\n  assert false"))
+        self.assertEqual(hunt(longer, "main", 3, "assert"), NONE)
+        self.assertEqual(hunt(longer, "main", 3, "assert", visits=21), ("run", [], 21))
         self.assertEqual(hunt(read_program(text.format(10)), "main", 2, "assert"), NONE)
         self.assertEqual(hunt(read_program(text.format(10)), "main", 2, "assert", visits=22), ("run", [], 22))
         # All values of three variables, kept until the end: 8, 64 and 512 classes.

@@ -178,6 +178,15 @@ class TestLines(WitnessCase):
         for at in (1, 3, 10):
             self.assertEqual(witness_rows(self.program, (*LINES, ("enter", at)))[-1][2], 0)
 
+    def test_words_and_lengths(self):
+        """Lines that would be right with another word, or without their last part."""
+        for line in (
+            ("enter", 1, 0), ("enter", 1, None), ("enter", 3, 7), ("back", 1), ("go", 1), ("step", 1), ("start", 1), ("enter",),
+            ("go", 3, 7), ("back", 3, 7, 7), ("enter", 3, 7), ("step", 3, 7), ("go", 0, 4), ("start", 0, 4), ("step", 0, 4, None),
+            ("back", 0, 4),
+        ):
+            self.bad(self.program, (*LINES, line), 16)
+
     def test_back(self):
         """Only the three calls and the ends of what they call, with the same entry, fit together."""
         ids = witness_rows(self.program, LINES)
@@ -287,6 +296,12 @@ class TestAmounts(WitnessCase):
             lines.append(("step", 2 * at + 1, at % 8))
         self.assertEqual(witness_inputs(program, tuple(lines)), [at % 8 for at in range(600)])
         self.assertEqual(witness_visits(program, tuple(lines)), 1200)
+        for at in range(600, 2001):
+            lines += [("step", 2 * at, None), ("step", 2 * at + 1, 7)]
+        self.assertEqual(len(witness_inputs(program, tuple(lines[:-1]))), 2000)
+        with self.assertRaises(TooLong) as caught:
+            witness_inputs(program, tuple(lines))
+        self.assertEqual(caught.exception.amount, 2001)
 
 
 class TestFindWitness(WitnessCase):
