@@ -240,7 +240,7 @@ class TestPlainValues(unittest.TestCase):
 
     def test_results_about_all_runs(self):
         for maker in (TinyMaker, SimpleMaker, CarefulMaker):
-            for seed in range(12):
+            for seed in range(5):
                 program = maker(seed).program()
                 analysis = analyse(program)
                 found = [is_plain(program), is_simple(program), *never_by(program, analysis.rows)]

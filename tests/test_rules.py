@@ -368,14 +368,14 @@ class TestRuns(unittest.TestCase):
 
     def test_programs_by_chance(self):
         visits = 0
-        for seed in range(400):
+        for seed in range(250):
             maker = RightMaker if seed % 4 == 0 else CarefulMaker
             program = maker(seed).program()
             rules = Rules(program)
             visits += follow_run(self, program, rules, [3, -4, 5, 11], 60, "exact")
             follow_run(self, program, rules, [-7, 2], 60, "own")
             follow_run(self, program, rules, [3, -4, 5, 11], 60, "wide")
-        self.assertGreater(visits, 5000)
+        self.assertGreater(visits, 3000)
 
     def test_large_numbers_by_chance(self):
         visits = 0

@@ -288,10 +288,10 @@ class TestFirstTable(unittest.TestCase):
 
     def test_programs_by_chance(self):
         rows = 0
-        for seed in range(60):
+        for seed in range(40):
             for maker in (CarefulMaker, NumberMaker, PlainMaker, RightMaker):
                 rows += self.check(maker(seed).program(), 70)
-        self.assertGreater(rows, 2000)
+        self.assertGreater(rows, 1300)
 
     def test_it_leads_to_itself(self):
         for rules, table in small_tables():
