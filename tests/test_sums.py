@@ -1,4 +1,4 @@
-"""Sums, limits and distances, on which hunting rests."""
+"""Sums, limits, cases and distances, on which hunting rests."""
 
 import itertools
 import random
@@ -7,6 +7,7 @@ import unittest
 from neverhappens.distances import Distances
 from neverhappens.layouts import Layout
 from neverhappens.limits import NO_COLUMNS, Limits
+from neverhappens.parting import TooManyCases, all_given, cases_of
 from neverhappens.reading import read_program
 from neverhappens.sums import column_sum, cut_sum, is_number, is_sharp, minus, number_sum, plus, reach, times
 from neverhappens.zones import has_point, range_box
@@ -100,6 +101,37 @@ class TestLimits(unittest.TestCase):
         self.assertLessEqual(steps, 60)
         self.assertEqual(found.with_product(number_sum(3), one)[1], times(one, 3))
         self.assertEqual(found.with_product(one, number_sum(-2))[1], times(one, -2))
+
+
+class TestCases(unittest.TestCase):
+    def cases(self, word, many, columns):
+        """The cases of many comparisons of each column with a number of its own."""
+        limits, values = Limits(NO_COLUMNS, (), (), ()), {}
+        test = ("flag", True)
+        for name in "abcdef"[:columns]:
+            limits, values[name] = limits.with_column_read(0, 10 ** 9)
+            for at in range(many):
+                test = ("and", test, (word, ("name", name), ("num", 100 * at + 7)))
+        return cases_of(test, values, limits)
+
+    def test_what_does_not_matter_is_not_parted(self):
+        self.assertEqual([truth for truth, _ in self.cases("<", 3, 2)].count(True), 1)
+        self.assertEqual(len(self.cases("<", 5, 2)), 3)
+        self.assertEqual(len(self.cases("!=", 5, 1)), 11)
+        self.assertEqual(len(self.cases("==", 1, 2)), 5)
+
+    def test_too_many_cases(self):
+        self.assertEqual([truth for truth, _ in self.cases("!=", 4, 5)].count(True), 5 ** 5)
+        with self.assertRaises(TooManyCases):
+            self.cases("!=", 6, 6)
+        params = tuple((f"f{at}", ("flag",)) for at in range(14))
+        arguments = tuple(("<", ("name", f"x{at}"), ("num", 5)) for at in range(14))
+        limits, values = Limits(NO_COLUMNS, (), (), ()), {}
+        for at in range(14):
+            limits, values[f"x{at}"] = limits.with_column_read(0, 10 ** 9)
+        self.assertEqual(len(all_given(params[:10], arguments[:10], values, limits)), 2 ** 10)
+        with self.assertRaises(TooManyCases):
+            all_given(params, arguments, values, limits)
 
 
 class TestDistances(unittest.TestCase):
