@@ -15,38 +15,36 @@ class Distances:
         self.ways = {}
         for name, layout in layouts.items():
             self.ends[(name, layout.exit)] = 0
-        self.spread(self.ends, self.end_from)
+        self.spread(self.ends, False)
         self.ways[target] = 0
-        self.spread(self.ways, self.way_from)
+        self.spread(self.ways, True)
 
-    def spread(self, numbers, number_from):
-        """Finds the numbers of all places, until none becomes less."""
+    def spread(self, numbers, within):
+        """Finds the numbers of all places, until none becomes less.
+
+        `within` tells whether it counts if a called frame comes there itself: this is so for the
+        target, while the end of a called frame is not that of its caller.
+        """
         grows = True
         while grows:
             grows = False
             for name, layout in self.layouts.items():
                 for place in reversed(range(layout.exit)):
-                    number = number_from(name, place)
+                    number = self.number_from(numbers, within, name, place)
                     old = numbers.get((name, place))
                     if number is not None and (old is None or number < old):
                         numbers[(name, place)] = number
                         grows = True
 
-    def end_from(self, name, place):
-        """How many visits lead to the end of the frame, as far as this is known."""
+    def number_from(self, numbers, within, name, place):
+        """The number of a place, as far as those of the places behind it are known."""
         statement, after, other = self.layouts[name].graph[place]
-        found = [self.ends.get((name, after)), self.ends.get((name, other))]
+        found = [numbers.get((name, after)), numbers.get((name, other))]
         if statement[0] == "call":
-            found = [added(self.ends.get((statement[2], 0)), found[0])]
-        return added(1, least(found))
-
-    def way_from(self, name, place):
-        """How many visits lead to the target, as far as this is known."""
-        statement, after, other = self.layouts[name].graph[place]
-        found = [self.ways.get((name, after)), self.ways.get((name, other))]
-        if statement[0] == "call":
-            behind = added(self.ends.get((statement[2], 0)), found[0])
-            found = [self.ways.get((statement[2], 0)), behind]
+            begin = (statement[2], 0)
+            found = [added(self.ends.get(begin), found[0])]
+            if within:
+                found.append(numbers.get(begin))
         return added(1, least(found))
 
     def of_frames(self, frames):

@@ -168,6 +168,27 @@ class TestDistances(unittest.TestCase):
                 called = found.ends[(statement[2], 0)] if statement[0] == "call" else 0
                 self.assertEqual(number, 1 + called + min(behind))
 
+    def test_ways_by_chance(self):
+        """A call leads to the target within the called frame, or behind it if this frame ends."""
+        within = 0
+        for seed in range(20):
+            program = CarefulMaker(seed).program()
+            layouts = {function[0]: Layout(program, function[0]) for function in program[3]}
+            for target in [(name, layout.exit // 2) for name, layout in layouts.items()]:
+                found = Distances(layouts, target)
+                for name, place in [(name, at) for name in layouts for at in range(layouts[name].exit)]:
+                    statement, after, other = layouts[name].graph[place]
+                    behind = [found.ways.get((name, after)), found.ways.get((name, other))]
+                    if statement[0] == "call":
+                        begin = (statement[2], 0)
+                        ends = found.ends.get(begin)
+                        behind = [None if None in (ends, behind[0]) else ends + behind[0], found.ways.get(begin)]
+                        within += behind[1] is not None
+                    numbers = [1 + number for number in behind if number is not None]
+                    least = 0 if (name, place) == target else min(numbers, default=None)
+                    self.assertEqual(found.ways.get((name, place)), least)
+        self.assertGreater(within, 20)
+
 
 if __name__ == "__main__":
     unittest.main()
