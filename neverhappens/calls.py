@@ -20,7 +20,7 @@ def give_arguments(layout, callee, known, arguments, box):
     cases = [({}, box)]
     for (name, kind), argument in zip(callee.params, arguments):
         found = []
-        for given, wide in cases:
+        for given, wide in list(cases):
             if is_large(kind):
                 wide = add_columns(wide, (kind[1:],))
             may_be, members = give(argument, kind, len(wide) - 1, known, layout.large, wide)

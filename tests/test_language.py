@@ -43,6 +43,10 @@ BARRED_NAMES = (
     " hasattr help id importlib license locals methodcaller os quit setattr super type vars sys"
 ).split()
 
+CHANGING = (
+    "append clear extend insert pop remove reverse setdefault sort update heappop heappush"
+).split()
+
 LIBRARY = {"heapq": {"heappush", "heappop"}}
 
 # The interface of the document: functions with their arguments, and classes with their methods.
@@ -174,6 +178,61 @@ def local_names(tree):
             found.extend(node.id for node in ast.walk(function)
                          if isinstance(node, ast.Name) and isinstance(node.ctx, ast.Store))
     return found
+
+
+def held(node):
+    """The text of the variable or attribute that a node is, or is an item of, otherwise None."""
+    while isinstance(node, ast.Subscript):
+        node = node.value
+    inner = node
+    while isinstance(inner, ast.Attribute):
+        inner = inner.value
+    return ast.unparse(node) if isinstance(inner, ast.Name) else None
+
+
+def walked(node):
+    """What is iterated over itself, no copy of it, where a loop goes over this node."""
+    if isinstance(node, ast.Call):
+        if isinstance(node.func, ast.Attribute) and node.func.attr in ("items", "keys", "values"):
+            return walked(node.func.value)
+        if isinstance(node.func, ast.Name) and node.func.id in ("enumerate", "zip", "reversed"):
+            return [found for part in node.args for found in walked(part)]
+        return []
+    if isinstance(node, (ast.IfExp, ast.BoolOp)):
+        parts = node.values if isinstance(node, ast.BoolOp) else (node.body, node.orelse)
+        return [found for part in parts for found in walked(part)]
+    return [held(node)] if held(node) is not None else []
+
+
+def changed(nodes):
+    """The variables and attributes that these statements change by items, methods or `+=`."""
+    found = []
+    for node in [part for node in nodes for part in ast.walk(node)]:
+        if isinstance(node, ast.Subscript) and not isinstance(node.ctx, ast.Load):
+            found.append(held(node))
+        elif isinstance(node, ast.AugAssign):
+            found.append(held(node.target))
+        elif isinstance(node, ast.Call) and isinstance(node.func, ast.Attribute):
+            found.extend([held(node.func.value)] if node.func.attr in CHANGING else [])
+        elif isinstance(node, ast.Call) and node.func.id in CHANGING:
+            found.append(held(node.args[0]))
+    return set(found) - {None}
+
+
+def shared_names(function):
+    """For each variable and attribute that is assigned another one, all that may be one list with it."""
+    groups = {}
+    for node in ast.walk(function):
+        if isinstance(node, ast.Assign):
+            for target in node.targets:
+                pairs = [(target, node.value)]
+                if isinstance(target, ast.Tuple) and isinstance(node.value, ast.Tuple):
+                    pairs = zip(target.elts, node.value.elts)
+                for left, right in pairs:
+                    names = {held(left), *walked(right)} - {None}
+                    group = names.union(*[groups.get(name, set()) for name in names])
+                    groups.update({name: group for name in group})
+    return groups
 
 
 class TestFiles(unittest.TestCase):
@@ -334,6 +393,25 @@ class TestStatements(unittest.TestCase):
                 if isinstance(part, ast.Starred):
                     self.assertIsInstance(part.value, (ast.Name, ast.Attribute), name)
             self.assertNotIn(None, [keyword.arg for keyword in node.keywords])
+
+    def test_l23_l5_loops_change_nothing_that_they_walk(self):
+        """Not by another name for it in the same function, either."""
+        for name, function in nodes_of(ast.FunctionDef):
+            groups = shared_names(function)
+            for node in ast.walk(function):
+                if isinstance(node, ast.For):
+                    for found in walked(node.iter):
+                        shared = groups.get(found, {found})
+                        self.assertFalse(shared & changed(node.body), (name, node.lineno, found))
+
+    def test_l25_methods_are_called_where_they_stand(self):
+        methods = {node.name for _, holder in nodes_of(ast.ClassDef) for node in holder.body
+                   if isinstance(node, ast.FunctionDef) and not node.decorator_list}
+        called = {id(node.func) for _, node in nodes_of(ast.Call)}
+        stored = {node.attr for _, node in nodes_of(ast.Attribute) if isinstance(node.ctx, ast.Store)}
+        for name, node in nodes_of(ast.Attribute):
+            if node.attr in {*methods, *METHODS} - stored:
+                self.assertTrue(id(node) in called, (name, node.lineno))
 
     def test_l19_only_own_errors_are_caught(self):
         for name, node in nodes_of(ast.Try):
